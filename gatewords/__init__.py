@@ -1,0 +1,1 @@
+"""Groups told by letters, rules and finite machines."""

@@ -1,0 +1,101 @@
+"""The names, parameters and files of the interface."""
+
+import importlib
+import inspect
+import unittest
+
+from gatewords import errors
+from tests.helpers import ODD_VALUES
+
+CALLS = {
+    "letters": ["is_back(thing)", "is_word(back, thing)", "free(back, word)", "undone(back, word)",
+                "least_of(words)"],
+    "groups": ["Group(back, rules)", "step_done(group, word, step)", "is_road(group, one, other, thing)",
+               "road_back(group, one, road)", "near_words(group, word, most)"],
+    "machines": ["Machine(letters, ways, ends)", "goal(machine, row)", "takes(machine, row)",
+                 "rows_up_to(machine, most)"],
+    "pairs": ["pair_row(back, one, other)", "is_pair_row(back, thing)", "words_of(back, row)"],
+    "claims": ["Claim(group, words, nears)", "says(claim, letter, one, other)"],
+    "abelian": ["abelian_part(group)", "is_alike_abelian(group, one, other)", "abelian_order(group, word)"],
+    "abelianmaps": ["abelian_map(group)", "is_abelian_map(group, thing)",
+                    "abelian_place(group, places, word)"],
+    "changes": ["is_change(thing)", "changed(group, change)", "changed_word(group, change, word)"],
+    "leastforms": ["least_form(machine)", "is_least_form(machine)", "is_state_paper(machine, thing)",
+                   "state_paper(machine)"],
+    "begun": ["beginnings(machine)", "is_begun(machine)", "rows_behind(machine, row)"],
+    "lettertexts": ["letter_names(back)"],
+    "products": ["free_product(one, other)", "direct_product(one, other)", "halves(one, other, word)",
+                 "syllables(one, other, word)", "from_syllables(one, other, parts)"],
+    "renaming": ["renamed(group, order)", "claim_renamed(claim, order)"],
+    "rowcounts": ["count_rows(machine, length)", "count_up_to(machine, length)", "row_fraction(machine)",
+                  "fraction_counts(over, under, most)"],
+    "machinetexts": ["machine_of_text(text)", "machine_text(machine)", "next_in_machine(text)"],
+    "shorttexts": ["short_text(back, word)"],
+    "rowjoins": ["in_either(one, other)", "in_both(one, other)", "in_one(one, other)", "in_none(machine)"],
+    "rowasking": ["first_row(machine)", "first_beyond(one, other)", "is_among(one, other)",
+                  "first_apart(one, other)"],
+    "rowgrowth": ["is_finite(machine)", "how_many(machine)", "row_lengths(machine)", "growth_of(machine)",
+                  "is_round_paper(machine, thing)", "is_fork_paper(machine, thing)", "round_paper(machine)",
+                  "fork_paper(machine)"],
+    "rowmakers": ["no_rows(letters)", "all_rows(letters)", "just_rows(letters, rows)",
+                  "free_rows(letters, rows)"],
+    "pairmakers": ["all_pairs(back)", "pairs_of(back, one, other)", "same_pairs(back, words)",
+                   "put_pairs(back, words, letter)", "ordered_pairs(back)", "turned_pairs(back, near)"],
+    "directclaims": ["claim_direct(one, other)"],
+    "freeclaims": ["claim_free(one, other)"],
+    "projections": ["firsts_of(back, near)", "seconds_of(back, near)", "led_to(back, words, near)",
+                    "partner_of(back, near, word)"],
+    "composing": ["composed(back, one, other)", "first_split(back, near)"],
+}
+
+PLAIN = """BadBack BadChange BadDeed BadFraction BadLive BadLog BadPaper BadQuestion BadRoad BadSpelling
+    BadStep BadValue BadWord Endless NoGroup NotShort""".split()
+MADE_OF = {"BadBytes": "place", "BadClaim": "part", "BadGiant": "part", "BadGroup": "part",
+           "BadJudged": "part", "BadLefts": "place", "BadMachine": "part", "BadMap": "part",
+           "BadNumber": "part", "BadSteady": "fault", "BadSubgroup": "part", "BadSystem": "part",
+           "BadText": "at", "NotLet": "why", "TooMany": "most"}
+
+
+class Calls(unittest.TestCase):
+
+    def test_names_and_parameters(self):
+        for stem, calls in CALLS.items():
+            module = importlib.import_module("gatewords." + stem)
+            for call in calls:
+                name, parameters = call[:-1].split("(")
+                thing = getattr(module, name)
+                self.assertEqual(thing.__module__, "gatewords." + stem)
+                told = inspect.signature(thing).parameters
+                self.assertEqual(", ".join(told), parameters, call)
+                self.assertTrue(all(one.default is one.empty for one in told.values()), call)
+
+
+class Errors(unittest.TestCase):
+
+    def test_all_are_there(self):
+        self.assertEqual(len(PLAIN) + len(MADE_OF), 31)
+        self.assertEqual(errors.GroupError.__bases__, (ValueError,))
+        for name in PLAIN + list(MADE_OF):
+            self.assertEqual(getattr(errors, name).__bases__, (errors.GroupError,), name)
+            self.assertEqual(getattr(errors, name).__module__, "gatewords.errors")
+        told = [name for name, thing in vars(errors).items() if inspect.isclass(thing)]
+        self.assertEqual(sorted(told), sorted(PLAIN + list(MADE_OF) + ["GroupError"]))
+
+    def test_attributes_may_be_any_value(self):
+        for name, attribute in MADE_OF.items():
+            for value in ODD_VALUES + [10 ** 5000]:
+                error = getattr(errors, name)(value)
+                self.assertIs(getattr(error, attribute), value)
+                self.assertEqual(list(vars(error)), [attribute])
+                self.assertIsInstance(str(error), str)
+            self.assertEqual(getattr(getattr(errors, name)(**{attribute: 3}), attribute), 3)
+
+    def test_messages(self):
+        for name in PLAIN:
+            error = getattr(errors, name)("some words")
+            self.assertEqual(str(error), "some words")
+            self.assertEqual(vars(error), {})
+
+
+if __name__ == "__main__":
+    unittest.main()
