@@ -2,9 +2,7 @@
 
 from gatewords.errors import BadChange, NotLet
 from gatewords.groups import MOST_RULES, MOST_SIDE, Group, want_group
-from gatewords.letters import is_number_in, is_row, is_short_row, turned_back, want_letters
-
-MOST_BACK = 12
+from gatewords.letters import MOST_BACK, is_number_in, is_row, is_short_row, turned_back, want_letters
 
 
 def is_change(thing):

@@ -5,7 +5,7 @@ from gatewords.machines import want_machine
 from gatewords.pairmakers import number_of, want_near
 from gatewords.partners import marks_of_tails, partners, ways_beside
 from gatewords.projections import near_shape, ways_by_first
-from gatewords.shapes import made, states_before
+from gatewords.shapes import made, states_before, states_into
 from gatewords.standings import SILENT, determined, linked, spread_many
 
 
@@ -103,10 +103,7 @@ def split_steps(by_first, standing):
 
 def far_from(ways, ends):
     """For each standing the least number of steps from it to an end, None if there is none."""
-    into = [[] for _ in ways]
-    for at, goals in enumerate(linked(ways)):
-        for to in goals:
-            into[to].append(at)
+    into = states_into(linked(ways))
     far = [0 if end else None for end in ends]
     order = [at for at, end in enumerate(ends) if end]
     place = 0

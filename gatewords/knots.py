@@ -1,5 +1,7 @@
 """Knots: states that lead to one another, and the sequence in which knots lead on."""
 
+from gatewords.shapes import states_into
+
 
 def finished_order(links):
     """All states, each one behind those to which it leads, but for those of its knot."""
@@ -23,10 +25,7 @@ def finished_order(links):
 
 def knots_of(links):
     """The list of all knots, each one ahead of those to which it leads, and each state's place."""
-    into = [[] for _ in links]
-    for state, leads in enumerate(links):
-        for to in leads:
-            into[to].append(state)
+    into = states_into(links)
     places = [None] * len(links)
     knots = []
     order = finished_order(links)

@@ -2,6 +2,7 @@
 
 from gatewords.errors import BadBack, BadWord
 
+MOST_BACK = 12
 MOST_LETTERS = 200
 
 
@@ -37,7 +38,7 @@ def is_short_row(many, thing, most):
 
 def is_back(thing):
     """Whether any value is a back."""
-    if not isinstance(thing, tuple) or not 2 <= len(thing) <= 12:
+    if not isinstance(thing, tuple) or not 2 <= len(thing) <= MOST_BACK:
         return False
     if not is_row(len(thing), thing):
         return False

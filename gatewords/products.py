@@ -2,9 +2,7 @@
 
 from gatewords.errors import BadWord, TooMany
 from gatewords.groups import MOST_RULES, Group, want_group
-from gatewords.letters import is_list, is_number_in, is_pair, is_row
-
-MOST_BACK = 12
+from gatewords.letters import MOST_BACK, is_list, is_number_in, is_pair, is_row
 
 
 def want_product(one, other):
