@@ -5,8 +5,8 @@ from gatewords.machines import want_machine
 from gatewords.pairmakers import number_of, want_near
 from gatewords.partners import marks_of_tails, partners, ways_beside
 from gatewords.projections import near_shape, ways_by_first
-from gatewords.shapes import made, states_before, states_into
-from gatewords.standings import SILENT, determined, linked, spread_many
+from gatewords.shapes import made, states_before
+from gatewords.standings import SILENT, determined, spread_many
 
 
 def ended_too(many, by_letter, ends):
@@ -101,36 +101,60 @@ def split_steps(by_first, standing):
     return found
 
 
-def far_from(ways, ends):
-    """For each standing the least number of steps from it to an end, None if there is none."""
-    into = states_into(linked(ways))
-    far = [0 if end else None for end in ends]
-    order = [at for at, end in enumerate(ends) if end]
-    place = 0
-    while place < len(order):
-        for at in into[order[place]]:
-            if far[at] is None:
-                far[at] = far[order[place]] + 1
-                order.append(at)
-        place += 1
-    return far
+def has_two(standing, several, live):
+    """Whether the first word may end there, both second ones, unlike, going on to ends."""
+    if len(standing) == 1:
+        return several[standing[0]]
+    return live[standing[0]] and live[standing[1]]
 
 
-def least_row(ways, ends):
-    """The least row that leads, in some way, to an end, None if there is none."""
-    far = far_from(ways, ends)
-    if far[0] is None:
-        return None
+def row_of_group(came, at):
+    """The row by which a group of standings was met."""
     row = []
-    places = [0]
-    for rest in reversed(range(far[0])):
-        goals = {}
-        for at in places:
-            for number, behind in ways[at].items():
-                goals.setdefault(number, []).extend([to for to in behind if far[to] == rest])
-        row.append(min([number for number in goals if goals[number]]))
-        places = sorted(set(goals[row[-1]]))
-    return tuple(row)
+    while at:
+        at, number = came[at]
+        row.append(number)
+    return tuple(row[::-1])
+
+
+def groups_on(steps, group, met):
+    """The groups of standings not met yet to which numbers lead a group, by ascending numbers."""
+    goals = {}
+    for standing in group:
+        here = steps(standing)
+        for number, to in here:
+            if to not in met:
+                goals.setdefault(number, {})[to] = True
+    found = []
+    for number in sorted(goals):
+        new = [to for to in goals[number] if to not in met]
+        for to in new:
+            met[to] = True
+        if new:
+            found.append((number, new))
+    return found
+
+
+def least_row(first, steps, is_end):
+    """The least row that leads, in some way, from a standing to an end, None if there is none.
+
+    The standings of one group are met by the same least row; the groups come in
+    the order of these rows, since the least row to a standing goes on from the
+    least row to the standing ahead of it.
+    """
+    met = {first: True}
+    groups = [[first]]
+    came = [None]
+    at = 0
+    while at < len(groups):
+        if any([is_end(standing) for standing in groups[at]]):
+            return row_of_group(came, at)
+        further = groups_on(steps, groups[at], met)
+        for number, group in further:
+            groups.append(group)
+            came.append((at, number))
+        at += 1
+    return None
 
 
 def first_split(back, near):
@@ -145,9 +169,14 @@ def first_split(back, near):
     several = states_with_several(shape, tails, live)
     by_first = [{first: way[first] for first in way if first < many}
                 for way in ways_by_first(many, shape[0])]
-    standings, ways = spread_many((0,), lambda standing: split_steps(by_first, standing))
-    ends = [several[at[0]] if len(at) == 1 else live[at[0]] and live[at[1]] for at in standings]
-    word = least_row(ways, ends)
+
+    def steps(standing):
+        return split_steps(by_first, standing)
+
+    def is_end(standing):
+        return has_two(standing, several, live)
+
+    word = least_row((0,), steps, is_end)
     if word is None:
         return None
     one, other = partners(many, shape, word, 2)
