@@ -4,7 +4,7 @@ import itertools
 import random
 import unittest
 
-from gatewords.abelian import abelian_order, abelian_part, is_alike_abelian
+from gatewords.abelian import abelian_order, abelian_part, diagonal, is_alike_abelian
 from gatewords.abelianmaps import abelian_map, abelian_place, is_abelian_map
 from gatewords.errors import BadGroup, BadMap, BadWord
 from gatewords.groups import Group
@@ -104,9 +104,38 @@ class Parts(unittest.TestCase):
         refused(self, BadGroup(None), abelian_order, None, None)
         refused(self, BadWord("x"), is_alike_abelian, THREE, [0], None)
         refused(self, BadWord("x"), is_alike_abelian, THREE, (0,), (2,))
+        refused(self, BadWord("x"), is_alike_abelian, THREE, (2,), (0,))
         refused(self, BadWord("x"), abelian_order, THREE, (True,))
         refused(self, BadGroup(None), is_abelian_map, None, None)
         refused(self, BadGroup(None), abelian_place, None, None, None)
+
+
+    def test_diagonal_forms(self):
+        chance = random.Random(2)
+        self.assertEqual(diagonal([[2, 0], [0, 3]], 2)[0], [1, 6])
+        self.assertEqual(diagonal([[4, 0, 0], [0, 6, 0], [0, 0, 9]], 3)[0], [1, 6, 36])
+        self.assertEqual(diagonal([], 2)[0], [0, 0])
+        for _ in range(300):
+            many = chance.randrange(1, 4)
+            lines = [[chance.randrange(-6, 7) for _ in range(many)] for _ in range(many)]
+            form, turns = diagonal(lines, many)
+            size = 1
+            for number in form:
+                size *= number
+            self.assertEqual(size, abs(determinant(lines)))
+            self.assertEqual(abs(determinant(turns)), 1)
+            self.assertTrue(all(b % a == 0 if a else b == 0 for a, b in zip(form, form[1:])))
+            # Each line of the form comes of lines, so each line turned has its multiples.
+            for line in lines:
+                told = [sum(a * row[k] for a, row in zip(line, turns)) for k in range(many)]
+                self.assertTrue(all(x % number == 0 if number else x == 0 for x, number in zip(told, form)))
+
+
+def determinant(lines):
+    if not lines:
+        return 1
+    return sum((-1) ** k * lines[0][k] * determinant([line[:k] + line[k + 1:] for line in lines[1:]])
+               for k in range(len(lines)))
 
 
 class Alike(unittest.TestCase):
@@ -173,6 +202,13 @@ class Places(unittest.TestCase):
         ends = [(x, y) for x in range(-2, 3) for y in range(-2, 3) if is_abelian_map(ENDLESS, [(x,), (y,)])]
         self.assertEqual(ends, [(-1, 1), (1, -1)])
 
+    def test_onto_by_the_divisors(self):
+        # These four come to all rows modulo 2, though not to all rows of whole numbers.
+        four = Group((0, 1, 2, 3), [])
+        places = [tuple(int(j != k) for j in range(4)) for k in range(4)]
+        self.assertIs(is_abelian_map(four, places), True)
+        self.assertIs(is_abelian_map(four, [(1, 1, 0, 0), (0, 1, 1, 0), (0, 0, 1, 1), (1, 0, 0, 1)]), False)
+
     def test_no_numbers_at_all(self):
         gone = Group((0, 1), [((0,), ()), ((1,), ())])
         self.assertEqual(abelian_map(gone), [(), ()])
@@ -182,7 +218,7 @@ class Places(unittest.TestCase):
     def test_kinds(self):
         for thing in ODD_VALUES + [[(1,)], [(1,), (2,), (0,)], [(1,), [2]], [(1,), (True,)], [(1,), (5,)],
                                    [(1,), (-1,)], [(1,), (2, 0)], [(1,), (2.0,)], {0: (1,), 1: (2,)}, [(1,), ()],
-                                   [(0,), (0,)], [(1,), (1,)]]:
+                                   [(0,), (0,)], [(1,), (1,)], [(4,), (2,)], [(1,), (3,)], [(1,), (-1,)]]:
             self.assertIs(is_abelian_map(THREE, thing), False, repr(thing))
 
     def test_errors(self):

@@ -11,6 +11,7 @@ from gatewords.freeclaims import claim_free
 from gatewords.groups import Group
 from gatewords.leastforms import is_least_form
 from gatewords.machines import Machine, takes
+from gatewords.pairmakers import turned_pairs
 from gatewords.pairs import pair_row
 from gatewords.products import direct_product, free_product, from_syllables, halves, syllables
 from gatewords.renaming import claim_renamed, renamed
@@ -26,6 +27,15 @@ def chance_claim(seed, back):
     nears = [chance_near(31 * seed + k, back, chance.randrange(1, 4), chance.choice([0.5, 0.75]))
              for k in range(len(back) + 1)]
     return Claim(Group(back, []), chance_machine(seed, len(back), chance.randrange(1, 4)), nears)
+
+
+def free_claim():
+    """All words, and those of them that are one or two letters longer or shorter."""
+    back = (0, 1)
+    words = [(), (0,), (1,), (0, 1), (1, 0), (1, 1)]
+    led = [(a, b) for a in words for b in words if len(a) != len(b)]
+    nears = [near_of(back, []), near_of(back, led), near_of(back, led[::2])]
+    return Claim(Group(back, []), all_rows(2), nears)
 
 
 def product(one, other):
@@ -111,6 +121,9 @@ class Products(unittest.TestCase):
         self.assertEqual(claim.group, group)
         for machine in (claim.words,) + claim.nears:
             self.assertIs(is_least_form(machine), True)
+        for near in claim.nears:
+            # Turned twice it pairs the same words, and takes pair rows alone.
+            self.assertEqual(turned_pairs(group.back, turned_pairs(group.back, near)), near)
 
 
 class Free(Products):
@@ -213,6 +226,7 @@ class Direct(Products):
             made += 1
         self.assertGreater(made, 5)
         self.check(three_claim(), two_claim(), 4)
+        self.check(free_claim(), free_claim(), 4)
         self.check(endless_claim(), endless_claim(), 4)
         self.check(endless_claim(), three_claim(), 4)
 

@@ -202,6 +202,11 @@ class Growth(unittest.TestCase):
             self.assertTrue(again is None or is_round_paper(machine, again) is True)
             self.assertTrue(fork is None or is_fork_paper(machine, fork) is True)
 
+    def test_papers_where_many_numbers_stay(self):
+        for machine in [all_rows(3), all_rows(169), free_rows(4, [(0, 0)]), Machine(3, [[0, 0, 1], [1, 1, 1]], [1])]:
+            self.assertIs(is_round_paper(machine, round_paper(machine)), True)
+            self.assertIs(is_fork_paper(machine, fork_paper(machine)), True)
+
     def test_all_papers_judged(self):
         short = rows(2, 2)
         for machine in [WORDS, all_rows(2), Machine(2, [[1, None], [0, 1]], [1]), no_rows(2),

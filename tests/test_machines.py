@@ -136,6 +136,7 @@ class PairRows(unittest.TestCase):
     def test_errors(self):
         refused(self, BadBack("x"), pair_row, [1, 0], None, None)
         refused(self, BadWord("x"), pair_row, (1, 0), [0], None)
+        refused(self, BadWord("x"), pair_row, (1, 0), (2,), ())
         refused(self, BadWord("x"), pair_row, (1, 0), (0,), (2,))
         refused(self, BadBack("x"), words_of, (1,), None)
         refused(self, BadBack("x"), is_pair_row, (1, 1), ())

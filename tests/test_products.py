@@ -82,6 +82,9 @@ class Words(unittest.TestCase):
         self.assertEqual(from_syllables(one=ONE, other=OTHER, parts=parts), (0, 1, 1) + (3,) * 300)
         self.assertEqual(from_syllables(ONE, OTHER, tuple(parts)), (0, 1, 1) + (3,) * 300)
         self.assertEqual(from_syllables(ONE, OTHER, []), ())
+        self.assertEqual(from_syllables(TEN, ONE, [(0, (9,)), (1, (1,))]), (9, 11))
+        refused(self, BadWord("x"), from_syllables, TEN, ONE, [(1, (9,))])
+        refused(self, BadWord("x"), from_syllables, ONE, TEN, [(0, (9,))])
 
     def test_bad_words(self):
         for word in [None, [0], (4,), (-1,), (True,), "01"]:
