@@ -46,6 +46,23 @@ CALLS = {
     "projections": ["firsts_of(back, near)", "seconds_of(back, near)", "led_to(back, words, near)",
                     "partner_of(back, near, word)"],
     "composing": ["composed(back, one, other)", "first_split(back, near)"],
+    "rowplaces": ["row_at(machine, place)", "place_of(machine, row)", "next_row(machine, row)"],
+    "faults": ["is_fault(claim, thing)", "fault(claim)"],
+    "steadies": ["Steady(claim)", "led(steady, start, word)"],
+    "alongs": ["along(steady, word)", "unlike_at(steady, one, other)"],
+    "loops": ["gaps(steady, letter)", "ring(back, word)", "loops(steady)"],
+    "papers": ["is_paper(steady, thing)", "paper_near(steady, most)", "loop_road(steady, paper, word)"],
+    "partings": ["is_parting(steady, thing)", "parting_near(steady, points)"],
+    "normals": ["normal(steady, word)", "trail(steady, word)", "is_alike(steady, one, other)",
+                "normal_undone(steady, word)"],
+    "lots": ["held_words(claim, lot)", "is_held(claim, lot, word)", "carried(claim, lot, word)"],
+    "cosetlots": ["turns(claim, lot)", "not_coset(claim, lot)", "is_against_coset(claim, lot, thing)",
+                  "coset_of(claim, lot)", "is_sublot(claim, lot)"],
+    "cosets": ["coset_least(claim, lot, word)", "same_coset(claim, lot, one, other)",
+               "coset_leasts(claim, lot, most)", "coset_table(claim, lot)", "index_of(claim, lot)"],
+    "maps": ["Map(source, target, images)", "image(one, word)", "broken_map(one)", "map_behind(one, other)",
+             "undo_each_other(one, other)"],
+    "carrying": ["carried_road(group, change, one, road)"],
 }
 
 PLAIN = """BadBack BadChange BadDeed BadFraction BadLive BadLog BadPaper BadQuestion BadRoad BadSpelling

@@ -1,0 +1,101 @@
+"""Where the letters of a word, one after another, lead all normal words at once."""
+
+from gatewords.composing import composed_shape
+from gatewords.errors import TooMany
+from gatewords.leastrows import least_row
+from gatewords.letters import freed, turned_back, want_letters
+from gatewords.machines import MOST_STATES
+from gatewords.partners import marks_of_tails, ways_beside
+from gatewords.projections import ways_by_first
+from gatewords.shapes import least_shape, machine_of, shape_of
+from gatewords.steadies import want_steady
+
+
+def along_shape(claim, word):
+    """The shape, in its least form, of the pairs of a normal word and where a word leads it."""
+    many = len(claim.group.back)
+    # What undoes a letter leads back, so that neighbours that undo one another lead nowhere.
+    letters = freed(claim.group.back, word)
+    numbers = [letter + 1 for letter in letters] if letters else [0]
+    shape = least_shape(shape_of(claim.nears[numbers[0]]))
+    for number in numbers[1:]:
+        near = least_shape(shape_of(claim.nears[number]))
+        shape = least_shape(composed_shape(many, shape, near))
+        if len(shape[0]) > MOST_STATES:
+            raise TooMany(MOST_STATES)
+    return shape
+
+
+def along(steady, word):
+    """The near that pairs each normal word with the one to which a word leads it."""
+    want_steady(steady)
+    back = steady.claim.group.back
+    want_letters(back, word)
+    return machine_of((len(back) + 1) ** 2, along_shape(steady.claim, word))
+
+
+def tail_letters(tails, live, ends, state):
+    """The letters of the second word alone that lead a state to an end; there is one way at most."""
+    letters = []
+    while not ends[state]:
+        way = tails[state]
+        letter = [second for second in way if live[way[second]]][0]
+        letters.append(letter)
+        state = way[letter]
+    return letters
+
+
+def least_apart(many, one, other):
+    """The least word that two shapes, pairing each word with just one, pair with unlike ones.
+
+    A standing has a state of each and whether the second words are unlike so far.
+    """
+    by_first = ways_by_first(many, one[0])
+    other_by_first = ways_by_first(many, other[0])
+    tails = ways_beside(many, one[0], many)
+    other_tails = ways_beside(many, other[0], many)
+    live = marks_of_tails(one, tails)
+    other_live = marks_of_tails(other, other_tails)
+
+    def steps(standing):
+        found = []
+        further = other_by_first[standing[1]]
+        for first, pairs in by_first[standing[0]].items():
+            if first == many:
+                continue
+            for second, to in pairs:
+                for other_second, other_to in further.get(first, []):
+                    found.append((first, (to, other_to, standing[2] or second != other_second)))
+        return found
+
+    def is_end(standing):
+        if not live[standing[0]] or not other_live[standing[1]]:
+            return False
+        if standing[2]:
+            return True
+        letters = tail_letters(tails, live, one[1], standing[0])
+        return letters != tail_letters(other_tails, other_live, other[1], standing[1])
+
+    return least_row((0, 0, False), steps, is_end)
+
+
+def least_unlike(claim, one, other):
+    """The least normal word that two words lead to unlike words, None if there is none."""
+    back = claim.group.back
+    # Both lead alike where one and what undoes other lead back; half of this on either side
+    # makes the least machines.
+    word = freed(back, one + turned_back(back, other))
+    half = len(word) // 2
+    front = along_shape(claim, word[:half])
+    behind = along_shape(claim, turned_back(back, word[half:]))
+    if front == behind:
+        return None
+    return least_apart(len(back), front, behind)
+
+
+def unlike_at(steady, one, other):
+    """The least normal word that two words lead to unlike words, None if there is none."""
+    want_steady(steady)
+    want_letters(steady.claim.group.back, one)
+    want_letters(steady.claim.group.back, other)
+    return least_unlike(steady.claim, one, other)
