@@ -6,9 +6,14 @@ from gatewords.leastrows import least_row
 from gatewords.letters import freed, turned_back, want_letters
 from gatewords.machines import MOST_STATES
 from gatewords.partners import marks_of_tails, ways_beside
+from gatewords.pairs import row_of_pair
+from gatewords.points import first_point_unlike, place_led, points_of
 from gatewords.projections import ways_by_first
+from gatewords.rowmakers import folded_tree, tree_of
 from gatewords.shapes import least_shape, machine_of, shape_of
 from gatewords.steadies import want_steady
+
+MOST_LETTERS_TOLD = 1000000
 
 
 def along_shape(claim, word):
@@ -26,12 +31,26 @@ def along_shape(claim, word):
     return shape
 
 
+def points_shape(many, points, word):
+    """The shape, in its least form, of the pairs of words and where a word leads them, of points."""
+    words, moves = points
+    rows = []
+    for place, one in enumerate(words):
+        rows.append(row_of_pair(many, one, words[place_led(moves, place, word)]))
+    return least_shape(folded_tree(tree_of(rows)))
+
+
 def along(steady, word):
     """The near that pairs each normal word with the one to which a word leads it."""
     want_steady(steady)
     back = steady.claim.group.back
+    many = len(back)
     want_letters(back, word)
-    return machine_of((len(back) + 1) ** 2, along_shape(steady.claim, word))
+    points = points_of(steady)
+    # Few words, told one by one, need no standings of longer and longer words on the way.
+    if points is not None and sum([len(one) for one in points[0]]) <= MOST_LETTERS_TOLD:
+        return machine_of((many + 1) ** 2, points_shape(many, points, word))
+    return machine_of((many + 1) ** 2, along_shape(steady.claim, word))
 
 
 def tail_letters(tails, live, ends, state):
@@ -79,15 +98,20 @@ def least_apart(many, one, other):
     return least_row((0, 0, False), steps, is_end)
 
 
-def least_unlike(claim, one, other):
-    """The least normal word that two words lead to unlike words, None if there is none."""
-    back = claim.group.back
+def least_unlike(steady, points, one, other):
+    """The least normal word that two words lead to unlike words, None if there is none.
+
+    points are those of the Steady, which may be asked again and again so.
+    """
+    if points is not None:
+        return first_point_unlike(points, one, other)
+    back = steady.claim.group.back
     # Both lead alike where one and what undoes other lead back; half of this on either side
     # makes the least machines.
     word = freed(back, one + turned_back(back, other))
     half = len(word) // 2
-    front = along_shape(claim, word[:half])
-    behind = along_shape(claim, turned_back(back, word[half:]))
+    front = along_shape(steady.claim, word[:half])
+    behind = along_shape(steady.claim, turned_back(back, word[half:]))
     if front == behind:
         return None
     return least_apart(len(back), front, behind)
@@ -98,4 +122,4 @@ def unlike_at(steady, one, other):
     want_steady(steady)
     want_letters(steady.claim.group.back, one)
     want_letters(steady.claim.group.back, other)
-    return least_unlike(steady.claim, one, other)
+    return least_unlike(steady, points_of(steady), one, other)

@@ -2,9 +2,12 @@
 
 from gatewords.claims import Claim
 from gatewords.groups import Group
+from gatewords.judgeds import Judged
 from gatewords.machines import Machine
 from gatewords.pairs import pair_row
+from gatewords.regular import told_group
 from gatewords.rowmakers import free_rows, just_rows
+from gatewords.steadies import Steady
 
 
 def near_of(back, pairs):
@@ -152,3 +155,57 @@ def line_claim(rules=()):
     ways[2][5] = 2
     swap = Machine(16, ways, [2, 3, 4])
     return Claim(Group(back, rules), words, [moved(near) for near in whole.nears] + [swap])
+
+
+def with_rules(claim, rules):
+    """The claim of a group with these rules, by the same machines."""
+    return Claim(Group(claim.group.back, rules), claim.words, claim.nears)
+
+
+def told_judged(claim):
+    """The Judged of the group that the machines of a claim tell."""
+    group = told_group(Steady(claim))
+    return Judged(with_rules(claim, group.rules), [[(0, word, ())] for word, _ in group.rules])
+
+
+def two_powers(size, further):
+    """Letters that exchange bits of as many bits, and further ones, each of some bits; back and moves."""
+    moves = [[point ^ (1 << bit) for point in range(2 ** size)] for bit in range(size)]
+    for bits in further:
+        moves.append([point ^ sum(1 << bit for bit in bits) for point in range(2 ** size)])
+    return tuple(range(len(moves))), moves
+
+
+def far_claim(at):
+    """Letters 0 and 1 lead along a line, letter 2 exchanges the words of at and at + 1 letters 0."""
+    claim = line_claim()
+    ways = [[None] * 16 for _ in range(2 * at + 6)]
+    # States 0 to at read letters 0 alone.
+    for k in range(at):
+        ways[k][0] = k + 1
+    one_more, one_less, further = at + 1, at + 2, at + 3
+    ways[at][3], ways[at][12] = one_less, one_less
+    ways[at][0] = one_more
+    # Both of more than at + 1 letters 0.
+    ways[one_more][0] = further
+    ways[further][0] = further
+    ways[0][5] = at + 4
+    ways[at + 4][5] = at + 4
+    ends = sorted(list(range(at)) + [one_less, further, at + 4])
+    nears = list(claim.nears[:-1]) + [Machine(16, ways, ends)]
+    return Claim(claim.group, claim.words, nears)
+
+
+def digits_claim(many, base):
+    """As many elements, by numbers of three digits: letters 4, 2, 0 put 1 to a digit each."""
+    back = (1, 0, 3, 2, 5, 4)
+
+    def word(number):
+        high, rest = divmod(number % many, base * base)
+        middle, low = divmod(rest, base)
+        return (4,) * high + (2,) * middle + (0,) * low
+
+    nears = [near_of(back, [(word(k), word(k)) for k in range(many)])]
+    for step in (1, -1, base, -base, base * base, -base * base):
+        nears.append(near_of(back, [(word(k), word(k + step)) for k in range(many)]))
+    return Claim(Group(back, []), just_rows(6, [word(k) for k in range(many)]), nears)

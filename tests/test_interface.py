@@ -4,7 +4,7 @@ import importlib
 import inspect
 import unittest
 
-from gatewords import errors
+from gatewords import errors, lives
 from tests.helpers import ODD_VALUES
 
 CALLS = {
@@ -63,7 +63,28 @@ CALLS = {
     "maps": ["Map(source, target, images)", "image(one, word)", "broken_map(one)", "map_behind(one, other)",
              "undo_each_other(one, other)"],
     "carrying": ["carried_road(group, change, one, road)"],
+    "regular": ["is_moved(steady, thing)", "moved(steady)", "told_group(steady)"],
+    "ruleways": ["broken(steady)"],
+    "judgeds": ["Judged(claim, paper)"],
+    "roadmakers": ["road_home(judged, word)", "road_between(judged, one, other)"],
+    "keeping": ["kept(judged, change)", "kept_by(judged, place, road)"],
+    "mappedroads": ["road_mapped(judged, one, word, road)"],
+    "shortness": ["gains(steady)", "longer_at(steady)", "later_at(steady)", "is_shortest(steady)",
+                  "is_least(steady)"],
+    "distances": ["ball(steady, most)", "distance(steady, word)", "shortest_words(steady, word)",
+                  "order_of(steady, word, most)"],
+    "guides": ["is_guide(steady, near)", "guide_of(steady)"],
+    "lefts": ["is_left(steady, letter, near)", "left_of(steady, letter)"],
+    "equations": ["Sides(steady, lefts)", "sides_of(steady)", "conjugators(sides, one, other)",
+                  "is_conjugate(sides, one, other)", "conjugator(sides, one, other)",
+                  "solutions(sides, one, two, three, four)"],
+    "centres": ["centralizer(sides, word)", "centre(sides)", "is_commutative(steady)",
+                "conjugates(sides, word)"],
+    "lives": ["is_question(thing)", "is_deed(thing)", "answered(judged, question)", "Live(group)"],
 }
+
+METHODS = {"Live": ["do(self, deed)", "undo(self)", "redo(self)", "questions(self)", "answers(self)", "deeds(self)",
+                    "undone(self)", "what_if(self, deed)"]}
 
 PLAIN = """BadBack BadChange BadDeed BadFraction BadLive BadLog BadPaper BadQuestion BadRoad BadSpelling
     BadStep BadValue BadWord Endless NoGroup NotShort""".split()
@@ -85,6 +106,12 @@ class Calls(unittest.TestCase):
                 told = inspect.signature(thing).parameters
                 self.assertEqual(", ".join(told), parameters, call)
                 self.assertTrue(all(one.default is one.empty for one in told.values()), call)
+
+    def test_methods(self):
+        for method in METHODS["Live"]:
+            name, parameters = method[:-1].split("(")
+            told = inspect.signature(vars(lives.Live)[name]).parameters
+            self.assertEqual(", ".join(told), parameters, method)
 
 
 class Errors(unittest.TestCase):
