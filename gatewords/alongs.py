@@ -2,12 +2,14 @@
 
 from gatewords.composing import composed_shape
 from gatewords.errors import TooMany
+from gatewords.leading import led_along
 from gatewords.leastrows import least_row
 from gatewords.letters import freed, turned_back, want_letters
+from gatewords.loops import loops_of
 from gatewords.machines import MOST_STATES
 from gatewords.partners import marks_of_tails, ways_beside
 from gatewords.pairs import row_of_pair
-from gatewords.points import first_point_unlike, place_led, points_of
+from gatewords.points import all_places_led, first_point_unlike, points_of
 from gatewords.projections import ways_by_first
 from gatewords.rowmakers import folded_tree, tree_of
 from gatewords.shapes import least_shape, machine_of, shape_of
@@ -33,10 +35,9 @@ def along_shape(claim, word):
 
 def points_shape(many, points, word):
     """The shape, in its least form, of the pairs of words and where a word leads them, of points."""
-    words, moves = points
-    rows = []
-    for place, one in enumerate(words):
-        rows.append(row_of_pair(many, one, words[place_led(moves, place, word)]))
+    words = points[0]
+    goals = all_places_led(points, word)
+    rows = [row_of_pair(many, one, words[to]) for one, to in zip(words, goals)]
     return least_shape(folded_tree(tree_of(rows)))
 
 
@@ -98,23 +99,50 @@ def least_apart(many, one, other):
     return least_row((0, 0, False), steps, is_end)
 
 
-def least_unlike(steady, points, one, other):
-    """The least normal word that two words lead to unlike words, None if there is none.
-
-    points are those of the Steady, which may be asked again and again so.
-    """
-    if points is not None:
-        return first_point_unlike(points, one, other)
-    back = steady.claim.group.back
+def least_unlike(claim, one, other):
+    """The least normal word that two words lead to unlike words, None if there is none."""
+    back = claim.group.back
     # Both lead alike where one and what undoes other lead back; half of this on either side
     # makes the least machines.
     word = freed(back, one + turned_back(back, other))
     half = len(word) // 2
-    front = along_shape(steady.claim, word[:half])
-    behind = along_shape(steady.claim, turned_back(back, word[half:]))
+    front = along_shape(claim, word[:half])
+    behind = along_shape(claim, turned_back(back, word[half:]))
     if front == behind:
         return None
     return least_apart(len(back), front, behind)
+
+
+class Leads:
+    """What was found of how words lead the normal words of a Steady, to be asked again and again."""
+
+    def __init__(self, steady):
+        self.steady = steady
+        self.points = points_of(steady)
+        self.loops = loops_of(steady.claim)
+        # Whether all loops lead each word to itself; None as long as this was not asked.
+        self.regular = None
+
+    def apart(self, one, other):
+        """The least normal word that two words lead to unlike words, None if there is none."""
+        if self.points is not None:
+            return first_point_unlike(self.points, one, other)
+        return least_unlike(self.steady.claim, one, other)
+
+    def is_regular(self):
+        """Whether all loops lead each word to itself, so that the machines tell a group."""
+        if self.regular is None:
+            self.regular = all([self.apart(loop, ()) is None for loop in self.loops])
+        return self.regular
+
+    def unlike(self, one, other):
+        """The same as apart, asked of () alone where loops are short and tell that this is enough."""
+        back = self.steady.claim.group.back
+        size = len(freed(back, one + turned_back(back, other)))
+        if self.points is None and all([len(loop) < size for loop in self.loops]) and self.is_regular():
+            tables = self.steady.tables
+            return None if led_along(tables, (), one) == led_along(tables, (), other) else ()
+        return self.apart(one, other)
 
 
 def unlike_at(steady, one, other):
@@ -122,4 +150,4 @@ def unlike_at(steady, one, other):
     want_steady(steady)
     want_letters(steady.claim.group.back, one)
     want_letters(steady.claim.group.back, other)
-    return least_unlike(steady, points_of(steady), one, other)
+    return Leads(steady).unlike(one, other)

@@ -7,7 +7,7 @@ from gatewords.errors import BadLefts, BadWord, TooMany
 from gatewords.lefts import firsts_shape, is_left_of, left_machine
 from gatewords.letters import freed, is_list, is_short_row, turned_back
 from gatewords.machines import MOST_STATES
-from gatewords.points import place_led, points_of
+from gatewords.points import all_places_led, places_led, points_of
 from gatewords.rowasking import first_row
 from gatewords.rowjoins import both, joined
 from gatewords.rowmakers import folded_tree, tree_of
@@ -76,11 +76,9 @@ def both_sides(sides, ahead, behind):
 def few_solutions(points, one, other):
     """The shape of the words x, of few, for which one and x are alike with x and other."""
     words, moves = points
-    start = place_led(moves, 0, one)
-    found = []
-    for place, word in enumerate(words):
-        if place_led(moves, start, word) == place_led(moves, place, other):
-            found.append(word)
+    start = places_led(moves, [0], one)
+    goals = all_places_led(points, other)
+    found = [word for word, to in zip(words, goals) if places_led(moves, start, word) == [to]]
     return folded_tree(tree_of(found))
 
 

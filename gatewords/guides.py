@@ -1,5 +1,6 @@
 """Guides, which pair all shortest words with their normal words."""
 
+from gatewords.composing import ways_by_second
 from gatewords.errors import NotShort
 from gatewords.machines import want_machine
 from gatewords.pairmakers import number_of, pairs_alone, want_near
@@ -21,17 +22,6 @@ def want_short(steady):
         raise NotShort("normal words are not as short as can be")
 
 
-def pairs_by_second(many, ways):
-    """For each state the dict that tells for second letters the pairs of a first one and a state."""
-    found = []
-    for way in ways:
-        by_second = {}
-        for number, to in way.items():
-            by_second.setdefault(number % (many + 1), []).append((number // (many + 1), to))
-        found.append(by_second)
-    return found
-
-
 def one_longer(claim, shape):
     """The shape, in its least form, that a guide has if it has this one: () with (), and pairs one longer.
 
@@ -40,7 +30,7 @@ def one_longer(claim, shape):
     standing has the letter, a state of the shape and one of the letter's near.
     """
     many = len(claim.group.back)
-    by_second = pairs_by_second(many, shape[0])
+    by_second = ways_by_second(many, shape[0])
     nears = [least_shape(shape_of(near)) for near in claim.nears[1:]]
     tables = [ways_by_first(many, near[0]) for near in nears]
     start = (DONE, 0, 0)

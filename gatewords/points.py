@@ -78,17 +78,25 @@ def points_of(steady):
     return words, [[places[behind[word]] for word in words] for behind in led]
 
 
-def place_led(moves, place, word):
-    """The place to which the letters of a word, one after another, move a place."""
+def places_led(moves, places, word):
+    """The places to which the letters of a word, one after another, move some places."""
     for letter in word:
-        place = moves[letter][place]
-    return place
+        move = moves[letter]
+        places = [move[place] for place in places]
+    return places
+
+
+def all_places_led(points, word):
+    """The places to which a word leads the words of points, one for each."""
+    words, moves = points
+    return places_led(moves, list(range(len(words))), word)
 
 
 def first_point_unlike(points, one, other):
     """The first of the words of points that two words lead to unlike ones, None if there is none."""
-    words, moves = points
-    for place, word in enumerate(words):
-        if place_led(moves, place, one) != place_led(moves, place, other):
+    goals = all_places_led(points, one)
+    other_goals = all_places_led(points, other)
+    for word, to, other_to in zip(points[0], goals, other_goals):
+        if to != other_to:
             return word
     return None

@@ -1,6 +1,6 @@
 """Whether the machines of a Steady tell a group by themselves, and which."""
 
-from gatewords.alongs import least_unlike
+from gatewords.alongs import Leads
 from gatewords.errors import NoGroup, TooMany
 from gatewords.faults import is_normal
 from gatewords.groups import MOST_RULES, MOST_SIDE, Group
@@ -8,7 +8,6 @@ from gatewords.leading import led_along
 from gatewords.letters import is_row, turned_back
 from gatewords.loops import fronts_of, letters_of, loops_of, raw_loops, ring_of
 from gatewords.pairs import pair_of_row
-from gatewords.points import points_of
 from gatewords.rowgrowth import row_between
 from gatewords.shapes import live_states, shape_of
 from gatewords.steadies import want_steady
@@ -32,7 +31,7 @@ def first_round(steady):
 
     With it comes such a word; None if there is none.
     """
-    points = points_of(steady)
+    leads = Leads(steady)
     back = steady.claim.group.back
     known = {}
     for told in raw_loops(steady.claim):
@@ -40,7 +39,7 @@ def first_round(steady):
         if ring in known:
             continue
         known[ring] = True
-        start = least_unlike(steady, points, told[0], ())
+        start = leads.apart(told[0], ())
         if start is not None:
             return told, start
     return None

@@ -1,15 +1,14 @@
 """Whether the rules of a claim's group lead all normal words alike."""
 
-from gatewords.alongs import least_unlike
-from gatewords.points import points_of
+from gatewords.alongs import Leads
 from gatewords.steadies import want_steady
 
 
 def broken_rule(steady):
     """The place of the first rule whose sides lead unlike, and the least word so led, or None."""
-    points = points_of(steady)
+    leads = Leads(steady)
     for place, (one, other) in enumerate(steady.claim.group.rules):
-        word = least_unlike(steady, points, one, other)
+        word = leads.unlike(one, other)
         if word is not None:
             return (place, word)
     return None

@@ -4,7 +4,7 @@ A gap is the normal word of what undoes the one word, a word between both, and
 the other one, as far as they are read.
 """
 
-from gatewords.distances import ball_told
+from gatewords.distances import words_led_to
 from gatewords.errors import TooMany
 from gatewords.leading import led_along
 from gatewords.pairmakers import steps_of_both
@@ -26,14 +26,28 @@ class Gaps:
     def __init__(self, steady, first):
         self.steady = steady
         self.first = first
-        # None where the letters of a normal word tell its distance.
-        self.known = None if longer_told(steady) is None else ball_told(steady, MOST_FAR)
+        # Where normal words are as short as any their letters tell the distances.
+        self.is_short = longer_told(steady) is None
+        self.known = {(): 0}
+        self.level = [()]
         self.met = {}
         self.leads = {}
 
+    def widen(self):
+        """Know the distances of the normal words one step further away."""
+        far = self.known[self.level[0]] + 1
+        self.level = words_led_to(self.steady, self.known, self.level, far)
+        if len(self.known) > MOST_GAPS:
+            raise TooMany(MOST_GAPS)
+
     def far(self, gap):
         """The distance of a gap; TooMany if it is too far from ()."""
-        far = len(gap) if self.known is None else self.known.get(gap, MOST_FAR + 1)
+        if self.is_short:
+            far = len(gap)
+        else:
+            while gap not in self.known and self.level and self.known[self.level[0]] < MOST_FAR:
+                self.widen()
+            far = self.known.get(gap, MOST_FAR + 1)
         if far > MOST_FAR:
             raise TooMany(MOST_FAR)
         return far

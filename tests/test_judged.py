@@ -108,7 +108,10 @@ class Regular(unittest.TestCase):
         return words
 
     def test_endless(self):
-        for claim in [line_claim(), far_claim(1), far_claim(2), far_claim(5)]:
+        points, line = points_claim(), line_claim()
+        for claim in [line, far_claim(1), far_claim(2), far_claim(5), claim_free(points, two_claim()),
+                      claim_direct(points, endless_claim()), claim_free(three_claim(), far_claim(2)),
+                      claim_direct(endless_claim(), points), claim_direct(line, line), claim_free(points, points)]:
             steady = Steady(claim)
             found = moved(steady)
             self.assertIs(is_moved(steady, found), True)
@@ -210,6 +213,18 @@ class Broken(unittest.TestCase):
         # A rule that holds at () and not further on.
         self.assertEqual(broken(Steady(with_rules(points_claim(), [((1,), ())]))), (0, (0,)))
         self.assertEqual(broken(Steady(with_rules(far_claim(5), [((), ()), ((2,), ())]))), (1, (0,) * 5))
+
+    def test_long_rules(self):
+        # Of machines that tell a group () alone is to be asked, and of others it is not.
+        plane = claim_direct(endless_claim(), endless_claim())
+        space = claim_direct(plane, endless_claim())
+        sides = ((0, 2, 4) * 13, (4, 2, 0) * 13)
+        self.assertIsNone(broken(Steady(with_rules(space, [sides]))))
+        self.assertEqual(broken(Steady(with_rules(space, [sides, ((0, 2, 4) * 13, (4, 2, 0) * 12)]))), (1, ()))
+        near = far_claim(3)
+        back = (0,) * 15 + (2,) + (1,) * 15
+        self.assertEqual(broken(Steady(with_rules(near, [((0, 1) * 20, ()), (back, ())]))), (1, (1,) * 11))
+        self.assertEqual(broken(Steady(with_rules(near, [((1,) * 19 + (2,) + (0,) * 19, ())]))), (0, (0,) * 22))
 
 
 class Judgeds(unittest.TestCase):
