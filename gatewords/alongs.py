@@ -13,6 +13,7 @@ from gatewords.points import all_places_led, first_point_unlike, points_of
 from gatewords.projections import ways_by_first
 from gatewords.rowmakers import folded_tree, tree_of
 from gatewords.shapes import least_shape, machine_of, shape_of
+from gatewords.standings import MOST_ON_THE_WAY
 from gatewords.steadies import want_steady
 
 MOST_LETTERS_TOLD = 1000000
@@ -28,7 +29,7 @@ def along_shape(claim, word):
     for number in numbers[1:]:
         near = least_shape(shape_of(claim.nears[number]))
         shape = least_shape(composed_shape(many, shape, near))
-        if len(shape[0]) > MOST_STATES:
+        if len(shape[0]) > MOST_ON_THE_WAY:
             raise TooMany(MOST_STATES)
     return shape
 
@@ -119,7 +120,7 @@ class Leads:
     def __init__(self, steady):
         self.steady = steady
         self.points = points_of(steady)
-        self.loops = loops_of(steady.claim)
+        self.loops = [] if self.points is not None else loops_of(steady.claim)
         # Whether all loops lead each word to itself; None as long as this was not asked.
         self.regular = None
 

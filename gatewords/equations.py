@@ -12,6 +12,7 @@ from gatewords.rowasking import first_row
 from gatewords.rowjoins import both, joined
 from gatewords.rowmakers import folded_tree, tree_of
 from gatewords.shapes import least_shape, made, shape_of
+from gatewords.standings import MOST_ON_THE_WAY
 from gatewords.steadies import want_steady
 
 MOST_CONJUGATED = 20
@@ -68,7 +69,7 @@ def both_sides(sides, ahead, behind):
     for letter in ahead[::-1]:
         left = least_shape(shape_of(sides.lefts[letter]))
         shape = least_shape(composed_shape(many, shape, left))
-        if len(shape[0]) > MOST_STATES:
+        if len(shape[0]) > MOST_ON_THE_WAY:
             raise TooMany(MOST_STATES)
     return shape
 

@@ -8,6 +8,7 @@ from gatewords.machines import MOST_STATES, state_behind, want_machine
 from gatewords.projections import led_shape
 from gatewords.rowjoins import both, joined
 from gatewords.shapes import least_shape, machine_of, shape_of
+from gatewords.standings import MOST_ON_THE_WAY
 
 
 def want_lot(claim, lot):
@@ -53,7 +54,7 @@ def carried_shape(claim, shape, word):
     for letter in freed(claim.group.back, word):
         near = least_shape(shape_of(claim.nears[letter + 1]))
         shape = least_shape(led_shape(many, shape, near))
-        if len(shape[0]) > MOST_STATES:
+        if len(shape[0]) > MOST_ON_THE_WAY:
             raise TooMany(MOST_STATES)
     return shape
 

@@ -10,6 +10,8 @@ from gatewords.shapes import no_shape, states_before
 # The document leaves open what happens behind 20000 sets of standings; those
 # here may tell more apart than the document counts, so more of them are let.
 MOST_SETS = 45000
+# Machines on the way to others may be larger than those that are told.
+MOST_ON_THE_WAY = 10000
 SILENT = -1
 
 
