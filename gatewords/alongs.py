@@ -1,19 +1,16 @@
 """Where the letters of a word, one after another, lead all normal words at once."""
 
-from gatewords.composing import composed_shape
-from gatewords.errors import TooMany
+from gatewords.composing import composed_on_the_way
 from gatewords.leading import led_along
 from gatewords.leastrows import least_row
 from gatewords.letters import freed, turned_back, want_letters
 from gatewords.loops import loops_of
-from gatewords.machines import MOST_STATES
 from gatewords.partners import marks_of_tails, ways_beside
 from gatewords.pairs import row_of_pair
 from gatewords.points import all_places_led, first_point_unlike, points_of
 from gatewords.projections import ways_by_first
 from gatewords.rowmakers import folded_tree, tree_of
 from gatewords.shapes import least_shape, machine_of, shape_of
-from gatewords.standings import MOST_ON_THE_WAY
 from gatewords.steadies import want_steady
 
 MOST_LETTERS_TOLD = 1000000
@@ -28,9 +25,7 @@ def along_shape(claim, word):
     shape = least_shape(shape_of(claim.nears[numbers[0]]))
     for number in numbers[1:]:
         near = least_shape(shape_of(claim.nears[number]))
-        shape = least_shape(composed_shape(many, shape, near))
-        if len(shape[0]) > MOST_ON_THE_WAY:
-            raise TooMany(MOST_STATES)
+        shape = composed_on_the_way(many, shape, near)
     return shape
 
 

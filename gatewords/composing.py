@@ -1,13 +1,14 @@
 """Nears put together, and what near pairs with several words."""
 
+from gatewords.errors import TooMany
 from gatewords.leastrows import least_row
 from gatewords.letters import want_back
-from gatewords.machines import want_machine
+from gatewords.machines import MOST_STATES, want_machine
 from gatewords.pairmakers import number_of, want_near
 from gatewords.partners import marks_of_tails, partners, ways_beside
 from gatewords.projections import near_shape, ways_by_first
-from gatewords.shapes import made, states_before
-from gatewords.standings import SILENT, determined, spread_many
+from gatewords.shapes import least_shape, made, states_before
+from gatewords.standings import MOST_ON_THE_WAY, SILENT, determined, spread_many
 
 
 def ended_too(many, by_letter, ends):
@@ -59,6 +60,14 @@ def composed_shape(many, one, other):
     ends = one[1] + [True]
     other_ends = other[1] + [True]
     return determined(made_ways, [ends[state] and other_ends[at] for state, at in standings])
+
+
+def composed_on_the_way(many, one, other):
+    """The composed shape in its least form; TooMany(2000) if it is too large to go on with."""
+    shape = least_shape(composed_shape(many, one, other))
+    if len(shape[0]) > MOST_ON_THE_WAY:
+        raise TooMany(MOST_STATES)
+    return shape
 
 
 def composed(back, one, other):

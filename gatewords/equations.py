@@ -2,17 +2,15 @@
 
 from gatewords.alongs import along_shape
 from gatewords.claims import is_machine_of
-from gatewords.composing import composed_shape
-from gatewords.errors import BadLefts, BadWord, TooMany
+from gatewords.composing import composed_on_the_way
+from gatewords.errors import BadLefts, BadWord
 from gatewords.lefts import firsts_shape, is_left_of, left_machine
 from gatewords.letters import freed, is_list, is_short_row, turned_back
-from gatewords.machines import MOST_STATES
 from gatewords.points import all_places_led, places_led, points_of
 from gatewords.rowasking import first_row
 from gatewords.rowjoins import both, joined
 from gatewords.rowmakers import folded_tree, tree_of
 from gatewords.shapes import least_shape, made, shape_of
-from gatewords.standings import MOST_ON_THE_WAY
 from gatewords.steadies import want_steady
 
 MOST_CONJUGATED = 20
@@ -68,9 +66,7 @@ def both_sides(sides, ahead, behind):
     shape = along_shape(claim, behind)
     for letter in ahead[::-1]:
         left = least_shape(shape_of(sides.lefts[letter]))
-        shape = least_shape(composed_shape(many, shape, left))
-        if len(shape[0]) > MOST_ON_THE_WAY:
-            raise TooMany(MOST_STATES)
+        shape = composed_on_the_way(many, shape, left)
     return shape
 
 

@@ -64,15 +64,6 @@ def one_longer(claim, shape):
     return least_shape(determined(ways, [standing[0] == DONE for standing in standings]))
 
 
-def is_even(many, shape):
-    """Whether a trimmed shape of pair rows takes those of words of equal length alone."""
-    for way in shape[0]:
-        for number in way:
-            if number >= many * (many + 1) or number % (many + 1) == many:
-                return False
-    return True
-
-
 def is_guide(steady, near):
     """Whether a near pairs just each shortest word with its normal word, and no others."""
     want_steady(steady)
@@ -81,7 +72,8 @@ def is_guide(steady, near):
     want_near(back, near)
     want_short(steady)
     shape = least_shape(pairs_alone(len(back), shape_of(near)))
-    return is_even(len(back), shape) and shape == one_longer(steady.claim, shape)
+    # Each pair but () with () comes of a shorter one, so nothing else has this shape.
+    return shape == one_longer(steady.claim, shape)
 
 
 def guide_of(steady):

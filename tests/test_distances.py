@@ -118,6 +118,12 @@ class Shortness(unittest.TestCase):
         self.assertIs(is_shortest(four), True)
         self.assertEqual(later_at(four), ((0,), 1))
         self.assertIs(is_least(four), False)
+        # Letters 1 and 2 lead alike, and the greater one stands in normal words: at () or further on.
+        moves = [[1, 0, 2], [0, 2, 1], [0, 2, 1]]
+        further = Steady(tree_claim((0, 1, 2), moves, {0: (), 1: (0,), 2: (0, 2)}))
+        self.assertEqual((later_at(further), longer_at(further)), (((0,), 1), None))
+        self.assertIsNone(later_at(Steady(tree_claim((0, 1, 2), moves, {0: (), 1: (0,), 2: (0, 1)}))))
+        self.assertEqual(later_at(Steady(tree_claim((0, 1), [[1, 0], [1, 0]], {0: (), 1: (1,)}))), ((), 0))
 
     def test_errors(self):
         for thing in ODD_VALUES + [three_claim()]:

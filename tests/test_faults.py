@@ -297,9 +297,25 @@ class Faults(unittest.TestCase):
                  ("none", 0, ()), ("none", 0, (1, 1)), ("none", 0, (True,)), ("turned", 0, (), (0,)),
                  ("turned", 0, (1,), ()), ("turned", 0, (), None), ("empty",), ("empty", ()), "empty", ("begun", (0,)),
                  ("begun", (0, 0)), ("begun", None), ("equal", (0,)), ("equal", (True,)), ("equal",), ("equal", 4),
-                 ("step", 0, (1,)), ("step", 0), ("Pairs", 0, (2, 2)), (b"pairs", 0, (2, 2)), (0, 0, (2, 2))]
+                 ("none", False, (1,)), ("none", 2, (1,)), ("none", None, (1,)), ("step", False, ()), ("step", 2, ()),
+                 ("step", 0, None), ("step", 0, [1]), ("step", 0, (1,)), ("step", 0), ("Pairs", 0, (2, 2)), (b"pairs", 0, (2, 2)), (0, 0, (2, 2))]
         for thing in ODD_VALUES + wrong:
             self.assertIs(is_fault(claim, thing), False, repr(thing))
+
+    def test_words_that_lead_to_no_normal_one(self):
+        # Words of two letters lead to a state that is no end, so that they are not normal.
+        claim = three_claim()
+        words = Machine(2, [(1, 1), (2, 2), (None, None)], [0, 1])
+        self.assertIsNone(fault(Claim(claim.group, words, claim.nears)))
+        led = [((), (0,)), ((0,), (1,)), ((1,), ())]
+        for pair, row in [(((0, 0), ()), (2, 2)), (((), (1, 1)), (7, 7)), (((0, 1), (1, 0)), (1, 3)), (((0,), (1, 0)), (1, 6))]:
+            wider = Claim(claim.group, words, [claim.nears[0], near_of((1, 0), led + [pair]), claim.nears[2]])
+            self.assertEqual(fault(wider), ("pairs", 0, row))
+        # Of words that are not normal, though longer ones are, nothing is asked.
+        gone = Claim(claim.group, just_rows(2, [(), (0, 0), (0, 0, 0)]), claim.nears)
+        self.assertIs(is_fault(gone, ("step", 0, (0, 0))), True)
+        self.assertIs(is_fault(gone, ("step", 0, (0,))), False)
+        self.assertIs(is_fault(gone, ("begun", (0,))), True)
 
     def test_wide_words(self):
         # A pair row may begin with numbers of ended words; both ended is never one.

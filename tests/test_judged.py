@@ -346,7 +346,7 @@ class Roads(unittest.TestCase):
         self.assertIs(is_road(judged.claim.group, word, normal(judged.steady, word), road_home(judged, word)), True)
         for wrong in [None, [], (3,), (True,), "0", (0,) * 201]:
             refused(self, BadWord("x"), road_home, judged, wrong)
-            refused(self, BadWord("x"), road_between, judged, wrong, None)
+            refused(self, BadWord("x"), road_between, judged, wrong, ())
             refused(self, BadWord("x"), road_between, judged, (), wrong)
         for thing in ODD_VALUES + [judged.steady, judged.claim]:
             refused(self, BadJudged(None), road_home, thing, None)

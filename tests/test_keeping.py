@@ -191,6 +191,24 @@ class Kept(unittest.TestCase):
         self.assertEqual(len(found.claim.nears[1].ways), 3)
         self.assertEqual(kept(found, ("unletter",)).claim, judged.claim)
 
+    def test_unletter_of_ways_to_nowhere(self):
+        # New letters lead to a state from which no word is taken, so they stand in no normal word.
+        first = told_judged(three_claim())
+        grown = kept(first, ("letter", (0, 0)))
+        claim = grown.claim
+        dead = len(claim.words.ways)
+        words = Machine(4, [way[:2] + (dead, dead) for way in claim.words.ways] + [(dead,) * 4], claim.words.ends)
+        near = claim.nears[1]
+        far = len(near.ways)
+        ways = [tuple(far if to is None and 2 in divmod(x, 5) else to for x, to in enumerate(way)) for way in near.ways]
+        nears = [claim.nears[0], Machine(25, ways + [(None,) * 25], near.ends)] + list(claim.nears[2:])
+        judged = Judged(Claim(claim.group, words, nears), grown.paper)
+        found = kept(judged, ("unletter",))
+        self.assert_judged(found, first.claim.group)
+        self.assertEqual(found.claim.words.ways, tuple(first.claim.words.ways) + ((dead, dead),))
+        self.assertEqual(found.claim.nears[1].ways, tuple(first.claim.nears[1].ways) + ((None,) * 9,))
+        self.assertEqual(kept(judged, ("letter", ())).claim.words.ways[0], words.ways[0] + (None, None))
+
     def test_unletter(self):
         # A letter in some normal word is not to be lost.
         base = claim_direct(three_claim(), endless_claim())

@@ -203,6 +203,7 @@ class Lives(unittest.TestCase):
         self.assertNotEqual(one, Live(group))
         other.undo()
         self.assertEqual(one, other)
+        self.assertNotEqual(Live(group), Live(Group((1, 0), [])))
         # The same present group by other deeds.
         third = Live(changed(group, ("put", (), ())))
         one.redo()

@@ -100,7 +100,7 @@ class Lots(unittest.TestCase):
         for word in [None, [], [0], (2,), (True,), "0", (0,) * 201]:
             for function in (is_held, carried, coset_least):
                 refused(self, BadWord("x"), function, claim, lot, word)
-            refused(self, BadWord("x"), same_coset, claim, lot, word, None)
+            refused(self, BadWord("x"), same_coset, claim, lot, word, ())
             refused(self, BadWord("x"), same_coset, claim, lot, (), word)
         self.assertIs(is_held(claim, lot, (0,) * 198), True)
 
@@ -184,6 +184,13 @@ class CosetLots(unittest.TestCase):
                 ((0,), (), (2,)), ((0,), (), (1, 1, 1)), ((0, 0, 0), (), (1,)), (None, (), (1,))]:
             self.assertIs(is_against_coset(claim, lot, thing), False, repr(thing))
         self.assertIs(is_against_coset(claim, no_rows(2), []), False)
+        # Words that a lot takes and that are not normal are not held.
+        wide = just_rows(2, [(), (0,), (1,), (0, 0, 0)])
+        self.assertIs(is_against_coset(claim, wide, ((0,), (), (1,))), True)
+        for place in range(3):
+            thing = [(0,), (), (1,)]
+            thing[place] = (0, 0, 0)
+            self.assertIs(is_against_coset(claim, wide, tuple(thing)), False)
 
     def test_endless(self):
         claim = endless_claim()

@@ -133,6 +133,21 @@ class Maps(unittest.TestCase):
             found += led_back and onto
         self.assertEqual(found, 2)
 
+    def test_one_side_alone(self):
+        # Each element comes back one way round, and not the other way.
+        three, six = Steady(three_claim()), Steady(cyclic_claim(6))
+        one = Map(THREE, six, [(0, 0), (1, 1)])
+        other = Map(six.claim.group, three, [(0, 0), (1, 1)])
+        self.assertEqual(image(other, image(one, (0,))), (0,))
+        self.assertIs(undo_each_other(one, other), False)
+        self.assertIs(undo_each_other(other, one), False)
+        # One way round leads back to a group, the other way does not.
+        loose = Map(Group((1, 0), []), three, [(0,), (1,)])
+        free = Steady(Claim(Group((1, 0), []), three.claim.words, three.claim.nears))
+        further = Map(six.claim.group, free, [(0,), (1,)])
+        refused(self, BadMap("source"), undo_each_other, loose, further)
+        refused(self, BadMap("source"), undo_each_other, further, loose)
+
     def test_undo_long_and_broken(self):
         line = Steady(endless_claim())
         group = line.claim.group

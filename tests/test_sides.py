@@ -26,7 +26,7 @@ from gatewords.rowjoins import in_either, in_one
 from gatewords.rowmakers import all_rows, just_rows, no_rows
 from gatewords.steadies import Steady
 from tests.examples import (acting_claim, cyclic_claim, d4_claim, endless_claim, far_claim, line_claim, near_of,
-                            points_claim, regular_moves, s3_claim, s4_claim, three_claim, two_claim)
+                            points_claim, regular_moves, s3_claim, s4_claim, three_claim, two_claim, with_rules)
 from tests.helpers import ODD_VALUES, chance_near, language, paired, refused, rows
 
 
@@ -47,11 +47,19 @@ def round_claim():
     return claim_free(two_claim(), two_claim())
 
 
+def steps_claim(many, steps):
+    """Numbers modulo many, two letters for each step, by least words."""
+    every = [step for one in steps for step in (one, -one)]
+    moves = [[(k + step) % many for k in range(many)] for step in every]
+    return acting_claim(tuple(k ^ 1 for k in range(len(every))), moves, [])
+
+
 def short_groups():
     """Claims of groups whose normal words are as short as any and whose shortest words stay near them."""
     return [three_claim(), two_claim(), endless_claim(), s3_claim(), s4_claim(), d4_claim(), free_claim(), round_claim(),
             claim_free(three_claim(), two_claim()), claim_direct(endless_claim(), three_claim()),
-            claim_direct(round_claim(), three_claim())]
+            claim_direct(round_claim(), three_claim()), steps_claim(6, (1, 2)), steps_claim(9, (1, 3)),
+            steps_claim(7, (2, 3))]
 
 
 def plain_guide(steady, most):
@@ -99,6 +107,8 @@ class Guides(unittest.TestCase):
             self.assertIs(is_guide(steady, odd), True)
             self.assertIs(is_guide(steady, no_rows((len(back) + 1) ** 2)), False)
             self.assertIs(is_guide(steady, all_rows((len(back) + 1) ** 2)), False)
+            for one, other in [((), (0,)), ((0,), ()), ((0, 0), (0,)), ((0,), (0, 0, 0)), ((0, back[0]), ())]:
+                self.assertIs(is_guide(steady, in_either(guide, near_of(back, [(one, other)]))), False)
 
     def test_not_bounded(self):
         for claim in [plane_claim(), claim_direct(plane_claim(), plane_claim())]:
@@ -260,6 +270,8 @@ class Equations(unittest.TestCase):
         self.assertNotEqual(sides, Sides(steady, [wide, lefts[1]]))
         self.assertFalse(sides == sides.lefts or sides == steady or steady == sides or sides == None)  # noqa: E711
         self.assertNotEqual(sides, sides_of(Steady(d4_claim())))
+        loose = Steady(with_rules(s3_claim(), []))
+        self.assertNotEqual(sides, Sides(loose, sides.lefts))
 
     def test_sides_refused(self):
         steady = Steady(s3_claim())
@@ -342,7 +354,7 @@ class Equations(unittest.TestCase):
         self.assertEqual(conjugator(turning, (0, 2) * 10, (2, 0) * 10), (0,))
         for word in [None, [], [0], (2,), (True,), "0", (0,) * 21]:
             for function in (conjugators, is_conjugate, conjugator):
-                refused(self, BadWord("x"), function, sides, word, None)
+                refused(self, BadWord("x"), function, sides, word, ())
                 refused(self, BadWord("x"), function, sides, (), word)
         for word in [None, [], (2,), (True,), (0,) * 11]:
             for place in range(4):

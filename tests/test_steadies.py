@@ -183,7 +183,7 @@ class Alongs(unittest.TestCase):
             refused(self, BadSteady(None), unlike_at, thing, None, None)
         for word in [None, [], (2,), (True,), "0"]:
             refused(self, BadWord("x"), along, steady, word)
-            refused(self, BadWord("x"), unlike_at, steady, word, None)
+            refused(self, BadWord("x"), unlike_at, steady, word, ())
             refused(self, BadWord("x"), unlike_at, steady, (), word)
 
 
@@ -342,7 +342,7 @@ class Normals(unittest.TestCase):
         for word in [None, [], (2,), (True,), "0", (0,) * 201]:
             for function in (normal, trail, normal_undone):
                 refused(self, BadWord("x"), function, steady, word)
-            refused(self, BadWord("x"), is_alike, steady, word, None)
+            refused(self, BadWord("x"), is_alike, steady, word, ())
             refused(self, BadWord("x"), is_alike, steady, (), word)
         self.assertEqual(normal(steady, (0,) * 200), (1,))
 
