@@ -14,19 +14,28 @@ from gatewords.shapes import least_shape, machine_of, shape_of
 from gatewords.steadies import want_steady
 
 MOST_LETTERS_TOLD = 1000000
+# So many letters lead on one by one; longer words are put together of halves.
+MOST_ONE_BY_ONE = 40
+
+
+def letters_shape(claim, letters):
+    """The shape of the pairs of a normal word and where some letters, at least one, lead it."""
+    many = len(claim.group.back)
+    if len(letters) > MOST_ONE_BY_ONE:
+        half = len(letters) // 2
+        return composed_on_the_way(many, letters_shape(claim, letters[:half]), letters_shape(claim, letters[half:]))
+    shape = least_shape(shape_of(claim.nears[letters[0] + 1]))
+    for letter in letters[1:]:
+        near = least_shape(shape_of(claim.nears[letter + 1]))
+        shape = composed_on_the_way(many, shape, near)
+    return shape
 
 
 def along_shape(claim, word):
     """The shape, in its least form, of the pairs of a normal word and where a word leads it."""
-    many = len(claim.group.back)
     # What undoes a letter leads back, so that neighbours that undo one another lead nowhere.
     letters = freed(claim.group.back, word)
-    numbers = [letter + 1 for letter in letters] if letters else [0]
-    shape = least_shape(shape_of(claim.nears[numbers[0]]))
-    for number in numbers[1:]:
-        near = least_shape(shape_of(claim.nears[number]))
-        shape = composed_on_the_way(many, shape, near)
-    return shape
+    return letters_shape(claim, letters) if letters else least_shape(shape_of(claim.nears[0]))
 
 
 def points_shape(many, points, word):
