@@ -13,10 +13,10 @@ from gatewords.groups import Group
 from gatewords.leastforms import is_least_form, least_form
 from gatewords.letters import undone
 from gatewords.lots import carried, held_words, is_held
-from gatewords.machines import Machine, takes
+from gatewords.machines import Machine, goal, takes
 from gatewords.normals import normal
 from gatewords.rowasking import first_row
-from gatewords.rowjoins import in_both
+from gatewords.rowjoins import in_both, in_either, in_one
 from gatewords.rowmakers import all_rows, free_rows, just_rows, no_rows
 from gatewords.steadies import Steady
 from tests.examples import cyclic_claim, d4_claim, endless_claim, s3_claim, s4_claim, three_claim, two_claim
@@ -239,6 +239,29 @@ class CosetLots(unittest.TestCase):
                 self.assertIs(is_against_coset(claim, lot, paper), True)
 
 
+def free_moves(chance, size):
+    """Moves of points by letters that undo one another two by two."""
+    moves = []
+    for _ in range(2):
+        move = list(range(size))
+        chance.shuffle(move)
+        moves += [move, [move.index(p) for p in range(size)]]
+    return moves
+
+
+def mixed_moves(chance, size):
+    """Moves by a letter of order 3, what undoes it, and one that undoes itself, twice."""
+    third = list(range(size))
+    for p in range(0, size - 2, 3):
+        third[p], third[p + 1], third[p + 2] = p + 1, p + 2, p
+    swap = list(range(size))
+    if size > 3:
+        swap[2], swap[3] = 3, 2
+    if chance.random() < 0.5 and size > 3:
+        swap[0], swap[5] = 5, 0
+    return [third, [third.index(p) for p in range(size)], swap, swap]
+
+
 class Cosets(unittest.TestCase):
 
     def test_small_groups(self):
@@ -271,6 +294,35 @@ class Cosets(unittest.TestCase):
         self.assertFalse(any(to is None for way in table.ways for to in way))
         for word in every:
             self.assertIs(takes(table, word), is_held(claim, lot, word))
+
+    def test_of_points_moved(self):
+        # Words that lead point 0 to itself are a subgroup, and its cosets are the points.
+        chance = random.Random(6)
+        free = claim_free(endless_claim(), endless_claim())
+        mixed = claim_free(three_claim(), two_claim())
+        for claim, makes in [(free, free_moves), (mixed, mixed_moves)]:
+            for size in (1, 3, 6):
+                moves = makes(chance, size)
+                table = least_form(Machine(4, [[move[p] for move in moves] for p in range(size)], [0]))
+                lot = in_both(claim.words, table)
+                self.assertIs(is_sublot(claim, lot), True)
+                self.assertEqual(coset_table(claim, lot), table)
+                self.assertEqual(index_of(claim, lot), len(table.ways))
+                leasts = coset_leasts(claim, lot, 8)
+                self.assertEqual(len(leasts), len(table.ways))
+                self.assertEqual(sorted(goal(table, word) for word in leasts), list(range(len(leasts))))
+                for word in language(claim.words, 3):
+                    least = coset_least(claim, lot, word)
+                    self.assertEqual(goal(table, least), goal(table, word))
+                    self.assertIn(least, leasts)
+                shifted = carried(claim, lot, (0, 2))
+                self.assertIsNone(not_coset(claim, shifted))
+                self.assertIs(is_sublot(claim, shifted), goal(table, (0, 2)) == 0)
+                # One word less, or one more, and it is no coset.
+                for word in [coset_of(claim, lot)[0], normal(Steady(claim), (0, 2, 0, 0))]:
+                    for other in (in_one(lot, just_rows(4, [word])), in_either(lot, just_rows(4, [word]))):
+                        if other != lot:
+                            self.assertIs(is_against_coset(claim, other, not_coset(claim, other)), True)
 
     def test_60_cosets(self):
         claim = endless_claim()
