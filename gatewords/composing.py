@@ -56,7 +56,7 @@ def composed_shape(many, one, other):
                     found.append((number, (to, other_to)))
         return found
 
-    standings, made_ways = spread_many((0, 0), steps)
+    standings, made_ways = spread_many((0, 0), steps, None)
     ends = one[1] + [True]
     other_ends = other[1] + [True]
     return determined(made_ways, [ends[state] and other_ends[at] for state, at in standings])

@@ -1,9 +1,10 @@
 """Equations whose unknown stands once on either side, and the words that conjugate."""
 
 from gatewords.alongs import along_shape
+from gatewords.chains import chain_shape, link_of, links_of_nears
 from gatewords.claims import is_machine_of
 from gatewords.composing import composed_on_the_way
-from gatewords.errors import BadLefts, BadWord
+from gatewords.errors import BadLefts, BadWord, TooMany
 from gatewords.lefts import firsts_shape, is_left_of, left_machine
 from gatewords.letters import freed, is_list, is_short_row, turned_back
 from gatewords.points import all_places_led, places_led, points_of
@@ -79,14 +80,20 @@ def few_solutions(points, one, other):
     return folded_tree(tree_of(found))
 
 
-def solutions_told(sides, one, other):
-    """The Machine of the normal words x for which one and x are alike with x and other."""
+def chained_solutions(sides, one, other):
+    """The shape of the words x for which one and x are alike with x and other, by chains."""
+    claim = sides.steady.claim
+    many = len(claim.group.back)
+    lefts = [sides.lefts[letter] for letter in freed(claim.group.back, one)[::-1]]
+    links = links_of_nears(many, lefts if lefts else [claim.nears[0]])
+    return chain_shape(many, links, [link_of(many, along_shape(claim, other))])
+
+
+def halved_solutions(sides, one, other):
+    """The same shape as chained_solutions tells, by one machine for either side."""
     claim = sides.steady.claim
     back = claim.group.back
     many = len(back)
-    points = points_of(sides.steady)
-    if points is not None:
-        return made(many, few_solutions(points, one, other))
     left = freed(back, one)
     right = freed(back, other)
     # Half of each word is put to the other side, which makes the least machines.
@@ -95,7 +102,20 @@ def solutions_told(sides, one, other):
     shape = both_sides(sides, left[half:], turned_back(back, right[other_half:]))
     other_shape = both_sides(sides, turned_back(back, left[:half]), right[:other_half])
     alike = joined((many + 1) ** 2, shape, other_shape, both)
-    return made(many, firsts_shape(many, shape_of(alike)))
+    return firsts_shape(many, shape_of(alike))
+
+
+def solutions_told(sides, one, other):
+    """The Machine of the normal words x for which one and x are alike with x and other."""
+    many = len(sides.lefts)
+    points = points_of(sides.steady)
+    if points is not None:
+        return made(many, few_solutions(points, one, other))
+    try:
+        return made(many, chained_solutions(sides, one, other))
+    except TooMany:
+        # Chains are small where letters hardly commute, machines of sides where they do.
+        return made(many, halved_solutions(sides, one, other))
 
 
 def conjugators_told(sides, one, other):

@@ -60,7 +60,7 @@ def one_longer(claim, shape):
             found.extend(steps_of(letter, 0, 0))
         return found
 
-    standings, ways = spread_many(start, steps)
+    standings, ways = spread_many(start, steps, None)
     return least_shape(determined(ways, [standing[0] == DONE for standing in standings]))
 
 

@@ -41,7 +41,7 @@ def led_shape(many, words, near):
                 found.append((second if second < many else SILENT, (to, near_to)))
         return found
 
-    standings, made_ways = spread_many((0, 0), steps)
+    standings, made_ways = spread_many((0, 0), steps, None)
     taken = [near[1][at] and (state is None or ends[state]) for state, at in standings]
     return determined(made_ways, taken)
 

@@ -43,7 +43,7 @@ def spread(first, steps, most):
     return standings, ways
 
 
-def spread_many(first, steps):
+def spread_many(first, steps, most):
     """Like spread, with any number of standings for each number.
 
     What comes back has for each standing a dict that tells for numbers the
@@ -56,7 +56,7 @@ def spread_many(first, steps):
         way = {}
         here = steps(standings[len(ways)])
         for number, standing in here:
-            place = place_of_standing(places, standings, standing, None)
+            place = place_of_standing(places, standings, standing, most)
             way.setdefault(number, {})[place] = True
         ways.append({number: list(way[number]) for number in way})
     return standings, ways

@@ -13,7 +13,7 @@ from gatewords.freeclaims import claim_free
 from gatewords.guides import guide_of, is_guide
 from gatewords.leastforms import is_least_form, least_form
 from gatewords.lefts import is_left, left_of
-from gatewords.letters import undone
+from gatewords.letters import free, undone
 from gatewords.machines import takes
 from gatewords.normals import is_alike, normal
 from gatewords.pairmakers import same_pairs
@@ -342,6 +342,25 @@ class Equations(unittest.TestCase):
         self.assertEqual(conjugator(sides, (0, 0, 2, 1, 1), (2,)), (0, 0))
         self.assertEqual(how_many(conjugators(sides, (0,), (0,))), None)
         self.assertIs(takes(conjugators(sides, (0,), (0,)), (0,) * 50), True)
+
+    def test_long_words_without_rules(self):
+        sides = sides_of(Steady(free_claim()))
+        one, other = (0, 2) * 10, (2, 0) * 10
+        found = conjugators(sides, one, other)
+        wanted = {free((1, 0, 3, 2), one[:2] * k + (0,)) for k in range(4)} | {(3,), (3, 1, 3), (3, 1, 3, 1, 3)}
+        self.assertEqual(set(language(found, 6)), {word for word in wanted if len(word) <= 6})
+        self.assertIs(takes(found, (0, 2) * 100 + (0,)), True)
+        self.assertEqual(first_row(found), (0,))
+        self.assertEqual(conjugator(sides, (0,) * 20, (0,) * 19 + (2,)), None)
+        self.assertEqual(language(conjugators(sides, (0,) * 20, (0,) * 20), 3),
+                         [(), (0,), (1,), (0, 0), (1, 1), (0, 0, 0), (1, 1, 1)])
+
+    def test_long_words_of_letters_that_commute(self):
+        plane = plane_claim()
+        steady = Steady(claim_direct(plane, plane))
+        sides = sides_of(steady)
+        self.assertEqual(conjugators(sides, (0,) * 14, (0,) * 14), least_form(steady.claim.words))
+        self.assertEqual(conjugators(sides, (0, 2) * 7, (2,) * 6 + (0,) * 7), no_rows(8))
 
     def test_20_letters(self):
         steady = Steady(endless_claim())
