@@ -61,8 +61,11 @@ def put_letters(blocks, letters):
 
 def put_parts(blocks, parts):
     """The word of parts of words, told by word, start and end, one behind the other."""
-    turned = [(word[1], blocks.size_of(word[0]) - end, blocks.size_of(word[0]) - start) for word, start, end in parts[::-1]]
     forward = [(word[0], start, end) for word, start, end in parts]
+    turned = []
+    for word, start, end in parts[::-1]:
+        size = blocks.size_of(word[0])
+        turned.append((word[1], size - end, size - start))
     return (block_of_parts(blocks, forward), block_of_parts(blocks, turned))
 
 
