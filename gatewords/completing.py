@@ -17,7 +17,7 @@ from gatewords.systems import MOST_REPLACED, System
 
 # Many rules may go again when shorter ones are found. Where so many stand at
 # once it is taken that they will not come to be 140.
-MOST_STANDING = 6000
+MOST_STANDING = 4000
 
 
 def told_as_string(word):

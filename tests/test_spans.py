@@ -123,7 +123,7 @@ class Spans(unittest.TestCase):
         back = tuple(range(12))
         pairs = [((k, m), ()) for k in range(12) for m in range(12) if k != m][:40]
         self.assertLess(rules_at(Group(back, pairs), 2), 141)
-        refused(self, TooMany(140), spanned, Group(FREE, [((0, 2, 0), (2, 0, 2))]), 40)
+        refused(self, TooMany(140), spanned, Group(FREE, [((0, 2, 0), (2, 0, 2))]), 20)
 
     def test_spans_two_and_forty(self):
         self.assertEqual(spanned(PLANE, 2).rules, plain_spanned(PLANE, 2)[1])
@@ -188,22 +188,22 @@ class Settling(unittest.TestCase):
         self.assertIsNone(complete(SURFACE, 40))
 
     def test_too_many_from_the_first_span_that_has_them(self):
-        first = min(span for span in range(3, 20) if rules_at(DOUBLING, span) == 141)
+        first = next(span for span in range(3, 20) if rules_at(DOUBLING, span) == 141)
         self.assertIsNone(settled_span(DOUBLING, first - 1))
         self.assertIsNone(complete(DOUBLING, first - 1))
-        for most in (first, first + 1, 40):
+        for most in (first, 40):
             refused(self, TooMany(140), settled_span, DOUBLING, most)
             refused(self, TooMany(140), complete, DOUBLING, most)
 
     def test_no_span_with_room(self):
         # All sides have to have room, so that no span is looked at.
-        group = Group(FREE, DOUBLING.rules + (((0,) * 30, (0,) * 30),))
-        self.assertIsNone(settled_span(group, 29))
-        refused(self, TooMany(140), settled_span, group, 30)
+        group = Group(FREE, DOUBLING.rules + (((0,) * 14, (0,) * 14),))
+        self.assertIsNone(settled_span(group, 13))
+        refused(self, TooMany(140), settled_span, group, 14)
 
     def test_many_rules_of_shorter_spans_are_not_looked_at(self):
         # At span 12 there would be too many rules; with room for all sides the group has few.
-        first = min(span for span in range(3, 20) if rules_at(DOUBLING, span) == 141)
+        first = next(span for span in range(3, 20) if rules_at(DOUBLING, span) == 141)
         rules = DOUBLING.rules + (((0,) * (first + 6), (0,) * (first + 5)),)
         group = Group(FREE, rules)
         self.assertEqual(rules_at(group, first), 141)
