@@ -29,12 +29,16 @@ def three_claim():
 
 
 def cyclic_claim(many):
-    """The claim of the group of so many elements, by the powers of its letter 0."""
+    """The claim of the group of so many elements, by the powers of its letter 0.
+
+    Of more than 40 elements the machines alone tell the group.
+    """
     back = (1, 0)
     normals = [(0,) * k for k in range(many)]
     led = [(normals[k], normals[(k + 1) % many]) for k in range(many)]
     nears = [near_of(back, [(a, a) for a in normals]), near_of(back, led), near_of(back, [(b, a) for a, b in led])]
-    return Claim(Group(back, [((0,) * many, ())]), just_rows(2, normals), nears)
+    rules = [((0,) * many, ())] if many <= 40 else []
+    return Claim(Group(back, rules), just_rows(2, normals), nears)
 
 
 def two_claim():
