@@ -128,7 +128,7 @@ class Giants(unittest.TestCase):
 
     def test_one_giant_told_in_many_ways(self):
         back = (1, 0, 2)
-        for texts in [["(ab)^6", "ababababab ab", "(abab)^3", "((ab)^3)^2", "(ab)^5ab", "a(ba)^5b", "a(bA)^-5b",
+        for texts in [["(ab)^6", "ababababab ab", "(abab)^3", "((ab)^3)^2", "(ab)^5ab", "a(ba)^5b",
                        "ab(ab)^5", "(1)^9(ab)^6", "(bA)^-6"],
                       ["a^1000", "(a^10)^100", "a(a^9a)^99a^9", "A^-1000", "(A^500)^-2"],
                       ["[a,b]", "Abab", "[b,a]^-1"], ["1", "(1)", "(1)^1000000", "[1,1]"]]:
@@ -321,7 +321,7 @@ class Free(unittest.TestCase):
         self.assertEqual(giant_free(giant_joined(ahead, whole)), giant_free(giant_part(whole, whole.size // 2 + 11, whole.size)))
         # Many times a word whose ends undo one another.
         self.assertEqual(giant_free(giant_of_text(back, "(abABaBA)^1000000")),
-                         giant_of_text(back, "ab(ABa)^1000000BA"))
+                         giant_of_text(back, "abAB^1000000aBA"))
         self.assertEqual(giant_free(giant_of_text(back, "(a^500b^3A^500)^1000000")),
                          giant_of_text(back, "a^500(b^3)^1000000A^500"))
         self.assertEqual(giant_free(giant_of_text(back, "(a^500cA^500)^999999")), giant_of_text(back, "a^500cA^500"))
