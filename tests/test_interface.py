@@ -4,7 +4,7 @@ import importlib
 import inspect
 import unittest
 
-from gatewords import errors, lives
+from gatewords import desk, errors, giants, lives
 from tests.helpers import ODD_VALUES
 
 CALLS = {
@@ -81,10 +81,44 @@ CALLS = {
     "centres": ["centralizer(sides, word)", "centre(sides)", "is_commutative(steady)",
                 "conjugates(sides, word)"],
     "lives": ["is_question(thing)", "is_deed(thing)", "answered(judged, question)", "Live(group)"],
+    "subgroups": ["Subgroup(group, gens)", "spelled(sub, spelling)", "spelling_undone(sub, spelling)",
+                  "spelling_free(sub, spelling)", "both_gens(sub, other)"],
+    "layers": ["layer(sub, number)", "layer_spelling(sub, number, word)"],
+    "cosettables": ["is_table(group, thing)", "table_gens(group, table)", "found_table(sub)",
+                    "table_takes(group, table, word)"],
+    "members": ["unclosed(claim, sub, lot)", "is_member_paper(claim, sub, lot, thing)",
+                "member_spelling(claim, sub, lot, paper, word)"],
+    "findmembers": ["members_found(claim, sub)"],
+    "meets": ["meet(claim, lot, other)", "not_normal(claim, sub, lot)", "tables_met(group, one, other)",
+              "is_normal_table(group, table)", "table_core(group, table)"],
+    "systems": ["System(back, rules)", "reduced(system, word)", "is_reduced(system, word)"],
+    "clashes": ["least_clash(system)"],
+    "clearing": ["clear_of(machine)", "reduced_rows(system)"],
+    "differences": ["difference_path(system, one, other)", "short_differences(system, short)"],
+    "ledpairs": ["led_pairs(system, words, goal)", "unled_words(system, words)", "claim_of(group, system, words)"],
+    "spans": ["spanned(group, most)"],
+    "settling": ["settled_span(group, most)", "complete(group, most)"],
+    "spanroads": ["road_to_reduced(group, most, word)"],
+    "finding": ["claim_made(group, most, short)", "claim_found(group, most, short)", "paper_spanned(steady, most)"],
+    "tables": ["normals(steady)", "table(steady)", "orders(steady)", "classes(steady)"],
+    "finitemaps": ["maps_into(group, steady)", "count_into(group, steady)"],
+    "values": ["value_bytes(value)", "value_of(numbers)"],
+    "logs": ["record(value)", "log_of(values)", "read_log(numbers)"],
+    "histories": ["live_log(live)", "live_of(numbers)", "grown_log(numbers, deed)"],
+    "giants": ["giant_of_text(back, text)", "giant_of_word(back, word)", "giant_word(giant)",
+               "giant_letter(giant, place)", "giant_part(giant, start, end)", "giant_joined(one, other)",
+               "giant_power(giant, many)", "giant_undone(giant)", "giant_apart(one, other)"],
+    "giantfree": ["giant_free(giant)", "giants_alike(one, other)", "giant_goal(group, table, giant)"],
+    "giantroots": ["giant_core(giant)", "giant_root(giant)", "giants_commute(one, other)"],
+    "desk": ["Desk(back)"],
+    "wordtexts": ["word_of_text(back, text)", "word_text(back, word)", "next_in_word(back, text)"],
+    "grouptexts": ["group_of_text(text)", "group_text(group)", "next_in_group(text)"],
+    "claimtexts": ["claim_of_text(text)", "claim_text(claim)", "next_in_claim(text)"],
 }
 
-METHODS = {"Live": ["do(self, deed)", "undo(self)", "redo(self)", "questions(self)", "answers(self)", "deeds(self)",
-                    "undone(self)", "what_if(self, deed)"]}
+METHODS = {lives.Live: ["do(self, deed)", "undo(self)", "redo(self)", "questions(self)", "answers(self)",
+                        "deeds(self)", "undone(self)", "what_if(self, deed)"],
+           desk.Desk: ["tell(self, line)", "journal(self)"]}
 
 PLAIN = """BadBack BadChange BadDeed BadFraction BadLive BadLog BadPaper BadQuestion BadRoad BadSpelling
     BadStep BadValue BadWord Endless NoGroup NotShort""".split()
@@ -108,10 +142,15 @@ class Calls(unittest.TestCase):
                 self.assertTrue(all(one.default is one.empty for one in told.values()), call)
 
     def test_methods(self):
-        for method in METHODS["Live"]:
-            name, parameters = method[:-1].split("(")
-            told = inspect.signature(vars(lives.Live)[name]).parameters
-            self.assertEqual(", ".join(told), parameters, method)
+        for owner, methods in METHODS.items():
+            for method in methods:
+                name, parameters = method[:-1].split("(")
+                told = inspect.signature(vars(owner)[name]).parameters
+                self.assertEqual(", ".join(told), parameters, method)
+
+    def test_giants_are_made_by_functions(self):
+        self.assertEqual(giants.Giant.__module__, "gatewords.giants")
+        self.assertEqual((giants.giant_of_word((1, 0), (0,)).back, giants.giant_of_word((1, 0), (0,)).size), ((1, 0), 1))
 
 
 class Errors(unittest.TestCase):
