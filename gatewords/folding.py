@@ -37,6 +37,8 @@ class Folding:
         # Of each state that was made one with another: that one, and what is ahead
         # of the element there in its own; None for states that stand.
         self.leads = [None]
+        # How many states stand.
+        self.alive = 1
         # How many rounds changed something.
         self.changes = 0
 
@@ -75,6 +77,7 @@ class Folding:
         """A state without ways."""
         self.ways.append({})
         self.leads.append(None)
+        self.alive += 1
         return len(self.ways) - 1
 
     def put_half(self, state, letter, to, spelling):
@@ -104,6 +107,7 @@ class Folding:
             if first < second:
                 first, second, spelling = second, first, spelled_back(spelling)
             self.leads[first] = (second, spelling)
+            self.alive -= 1
             ways = self.ways[first]
             self.ways[first] = {}
             front = spelled_back(spelling)

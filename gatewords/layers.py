@@ -7,6 +7,8 @@ from gatewords.machines import MOST_STATES, Machine, state_behind
 from gatewords.subgroups import freed_spelling, want_subgroup, word_of_number
 
 MOST_LAYER = 8
+# So many states at once are taken not to be folded to 2000 by further rounds.
+MOST_ON_THE_WAY = 1000000
 
 
 def rounds_of(group):
@@ -33,7 +35,7 @@ class Layers:
 
     def want_few(self):
         """TooMany unless the layer has at most 2000 states."""
-        if len(self.folding.states_left()) > MOST_STATES:
+        if self.folding.alive > MOST_STATES:
             raise TooMany(MOST_STATES)
 
     def mark_round(self, state, rotations, start, place, marks):
@@ -61,6 +63,8 @@ class Layers:
         marks = {}
         for state in self.folding.states_left():
             self.put_rounds(state, marks)
+            if self.folding.alive > MOST_ON_THE_WAY:
+                raise TooMany(MOST_STATES)
         self.stays = self.folding.changes == changes
         self.want_few()
 
