@@ -42,10 +42,6 @@ class Folding:
         # How many rounds changed something.
         self.changes = 0
 
-    def stands(self, state):
-        """Whether a state was not made one with another."""
-        return self.leads[state] is None
-
     def states_left(self):
         """The states that stand."""
         return [state for state in range(len(self.leads)) if self.leads[state] is None]
