@@ -2,7 +2,6 @@
 
 from gatewords.errors import TooMany
 from gatewords.groups import want_group
-from gatewords.steadies import want_steady
 from gatewords.tables import few_points, products
 
 MOST_MAPPED = 20000
@@ -51,7 +50,6 @@ def images_further(rows, group, rules, tuples, letter):
 def all_maps(group, steady):
     """The ascending list of the tuples of places of images of the letters."""
     want_group(group)
-    want_steady(steady)
     points = few_points(steady)
     firsts = [letter for letter, undoing in enumerate(group.back) if letter <= undoing]
     many = 1

@@ -239,6 +239,8 @@ class Differences(unittest.TestCase):
             refused(self, BadSystem(None), difference_path, thing, None, None)
             refused(self, BadSystem(None), short_differences, thing, None)
         refused(self, BadWord("one"), difference_path, system, (2,), None)
+        refused(self, BadWord("one"), difference_path, system, (2,), (0,))
+        refused(self, BadWord("one"), difference_path, system, [0], (0,))
         refused(self, BadWord("other"), difference_path, system, (1,), (True,))
         for thing in [None, True, -1, 9, "1", 1.0]:
             refused(self, BadNumber("short"), short_differences, system, thing)
