@@ -10,7 +10,7 @@ of an equation.
 from heapq import heappop, heappush
 
 from gatewords.errors import TooMany
-from gatewords.lefttrees import drop_left, put_left, told_of_end
+from gatewords.lefttrees import put_left, told_of_end
 from gatewords.letters import rank
 from gatewords.lettertexts import SMALL
 from gatewords.systems import MOST_REPLACED, System
@@ -102,9 +102,9 @@ class Completion:
 
     def drop(self, left):
         """Let a rule go, since a shorter left side stands in its own; what it says waits."""
+        # It stays in the tree, where the shorter one always ends first.
         number = self.standing[left]
         del self.standing[left]
-        drop_left(self.tree, left)
         for size in range(1, len(left)):
             del self.fronts[left[:size]][number]
             del self.ends[left[-size:]][number]

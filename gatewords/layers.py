@@ -31,12 +31,6 @@ class Layers:
             if word:
                 self.folding.put_round(0, word, (2 * place,) if told else ())
         self.stays = False
-        self.want_few()
-
-    def want_few(self):
-        """TooMany unless the layer has at most 2000 states."""
-        if self.folding.alive > MOST_STATES:
-            raise TooMany(MOST_STATES)
 
     def mark_round(self, state, rotations, start, place, marks):
         """Mark all states of a round that is there as those at which it is, each with its rotation."""
@@ -66,7 +60,9 @@ class Layers:
             if self.folding.alive > MOST_ON_THE_WAY:
                 raise TooMany(MOST_STATES)
         self.stays = self.folding.changes == changes
-        self.want_few()
+        # Layer 0 cannot have so many.
+        if self.folding.alive > MOST_STATES:
+            raise TooMany(MOST_STATES)
 
     def machine(self):
         """The Machine of the layer."""

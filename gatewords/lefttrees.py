@@ -15,14 +15,6 @@ def put_left(tree, left, told):
     node[ENDED] = told
 
 
-def drop_left(tree, left):
-    """Take a left side that is there out of a tree."""
-    node = tree
-    for letter in left[::-1]:
-        node = node[letter]
-    del node[ENDED]
-
-
 def told_of_end(tree, letters):
     """What is told of the shortest left side with which a list of letters ends, None if there is none."""
     node = tree

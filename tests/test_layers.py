@@ -4,6 +4,7 @@ import itertools
 import random
 import unittest
 from fractions import Fraction
+from unittest import mock
 
 from gatewords.cosettables import found_table, is_table, table_gens, table_takes
 from gatewords.errors import BadGroup, BadMachine, BadNumber, BadSpelling, BadSubgroup, BadWord, TooMany
@@ -207,6 +208,7 @@ class Subgroups(unittest.TestCase):
         for thing in ODD_VALUES:
             refused(self, BadSubgroup(None), both_gens, thing, thing)
             refused(self, BadSubgroup(None), both_gens, one, thing)
+            refused(self, BadSubgroup(None), both_gens, thing, one)
 
 
 class Layers(unittest.TestCase):
@@ -254,6 +256,9 @@ class Layers(unittest.TestCase):
         refused(self, TooMany(2000), layer_spelling, sub, 3, word)
         self.assertEqual(len(layer(Subgroup(sub.group, [word + (2,)]), 1).ways), 210)
         refused(self, TooMany(2000), layer, Subgroup(sub.group, [word + (2,)]), 2)
+        # States that folding makes one count once.
+        self.assertEqual(len(layer(Subgroup(sub.group, [word] * 12), 2).ways), 2000)
+        refused(self, TooMany(2000), layer, Subgroup(sub.group, [word + (2,)] * 12), 2)
 
     def test_wrong_inputs(self):
         sub = Subgroup(FREE, [(0,)])
@@ -333,6 +338,29 @@ class Layers(unittest.TestCase):
         longer = (2, 2, 3, 2, 2, 2) + (0,) + (3,) * 4 + (1, 1) + undone(group, word) + (2, 3, 0) + word
         spelling = layer_spelling(two, 4, longer)
         self.assertEqual(affine(6, spelled(two, spelling)), affine(6, longer))
+
+    def test_short_spellings_where_all_others_are_too_long(self):
+        group = Group(FREE.back, [])
+        two = Subgroup(group, [(0, 2), (2, 2, 0)])
+        three = Subgroup(group, [(0, 2), (2, 2, 0), (3, 3)])
+        with mock.patch("gatewords.folding.MOST_SPELLED", 0):
+            for sub, most in ((two, 6), (three, 3)):
+                for spelling in itertools.product(range(len(sub.gens) * 2), repeat=most):
+                    if spelling != spelling_free(sub, spelling) or sum(spelling) % 7:
+                        continue
+                    # With letters put in, so that it is no words of gens side by side.
+                    literal = spelled(sub, spelling)
+                    word = literal[:1] + (group.back[literal[0]], literal[0]) + literal[1:]
+                    found = layer_spelling(sub, 0, word)
+                    self.assertEqual(reduced(complete(group, 2), spelled(sub, found)),
+                                     reduced(complete(group, 2), word))
+            longer = spelled(three, (0, 2, 0, 2))
+            refused(self, TooMany(1000), layer_spelling, three, 0, (0, 1) + longer)
+            longer = spelled(two, (0, 2, 0, 2, 0, 0, 0))
+            refused(self, TooMany(1000), layer_spelling, two, 0, (0, 1) + longer)
+            # Words of gens side by side are told, however many.
+            longer = spelled(three, (0, 2, 5, 1, 3, 4) * 10)
+            self.assertEqual(spelled(three, layer_spelling(three, 0, longer)), spelled(three, (0, 2, 5, 1, 3, 4) * 10))
 
     def test_members_of_finite_groups(self):
         for group, gens in ((S3, S3_GENS), (S4, S4_GENS), (D4, D4_GENS)):
@@ -443,6 +471,32 @@ class Tables(unittest.TestCase):
                 self.assertEqual(len(members) * len(table.ways), order)
                 for one in rows(len(gens), 3):
                     self.assertEqual(table_takes(group, table, one), moved(gens, one) in members)
+
+    def test_the_last_layer_that_is_looked_at(self):
+        for last in (0, 7, 8, 9):
+            told = []
+
+            class Slow:
+                """Layers of which the one of this number is the first that is a table."""
+
+                def __init__(self, sub, told):
+                    self.number = 0
+                    self.stays = False
+
+                def go_on(self):
+                    self.number += 1
+
+                def machine(self):
+                    told.append(self.number)
+                    return Machine(2, [(0, 0) if self.number >= last else (None, None)], [0])
+
+            with mock.patch("gatewords.cosettables.Layers", Slow):
+                if last == 9:
+                    refused(self, TooMany(8), found_table, Subgroup(S3, []))
+                    self.assertEqual(told, list(range(9)))
+                else:
+                    self.assertEqual(found_table(Subgroup(S3, [])).ways, ((0, 0),))
+                    self.assertEqual(told, list(range(last + 1)))
 
     def test_found_tables(self):
         self.assertEqual(found_table(Subgroup(PLANE, [(0, 0), (2,)])).ways, ((1, 1, 0, 0), (0, 0, 1, 1)))

@@ -3,6 +3,7 @@
 import itertools
 import random
 import unittest
+from unittest import mock
 
 from gatewords.cosetlots import coset_of, is_sublot, turns
 from gatewords.cosets import coset_least, index_of
@@ -266,6 +267,48 @@ class Found(unittest.TestCase):
             for seed in range(10):
                 sub = Subgroup(claim.group, chance_words(seed, 3, 2, 6))
                 self.judge(claim, sub, members_found(claim, sub))
+
+
+class Bounds(unittest.TestCase):
+
+    def test_short_spellings_where_all_others_are_too_long(self):
+        sub = Subgroup(FREE, [(0, 2), (2, 0)])
+        right = members_found(FREE_CLAIM, sub)
+        with mock.patch("gatewords.folding.MOST_SPELLED", 0):
+            found = members_found(FREE_CLAIM, sub)
+            self.assertEqual(found[:2], right[:2])
+            self.assertTrue(is_member_paper(FREE_CLAIM, sub, found[1], found[2]))
+            # A turn of seven numbers at least, by two gens, and one of four, by three.
+            sub = Subgroup(ENDLESS.group, [(0,) * 5, (0,) * 18])
+            refused(self, TooMany(1000), members_found, ENDLESS, sub)
+            sub = Subgroup(ENDLESS.group, [(0,) * 9, (0,) * 14, ()])
+            refused(self, TooMany(1000), members_found, ENDLESS, sub)
+            found = members_found(ENDLESS, Subgroup(ENDLESS.group, [(0,) * 3, (0,) * 5]))
+            self.assertTrue(is_member_paper(ENDLESS, Subgroup(ENDLESS.group, [(0,) * 3, (0,) * 5]), found[1], found[2]))
+
+    def test_the_last_layer_that_is_looked_at(self):
+        real = layer(Subgroup(PLANE, [(0, 0), (2,)]), 1)
+        for last in (0, 7, 8, 9):
+
+            class Slow:
+                """Layers of which the one of this number is the first that reads all members."""
+
+                def __init__(self, sub, told):
+                    self.number = 0
+                    self.stays = False
+
+                def go_on(self):
+                    self.number += 1
+
+                def machine(self):
+                    return real if self.number >= last else Machine(4, [(None,) * 4], [0])
+
+            sub = Subgroup(PLANE, [(0, 0), (2,)])
+            with mock.patch("gatewords.findmembers.Layers", Slow):
+                if last == 9:
+                    refused(self, TooMany(8), members_found, PLANE_CLAIM, sub)
+                else:
+                    self.assertEqual(members_found(PLANE_CLAIM, sub)[0], last)
 
 
 class Meets(unittest.TestCase):

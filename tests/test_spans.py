@@ -119,6 +119,11 @@ class Spans(unittest.TestCase):
             self.assertGreaterEqual(many, most)
             most = many
         self.assertEqual(most, 141)
+        group = Group((1, 0, 3, 2, 5, 4), [((0, 3, 2, 4), (3,)), ((3, 0, 2, 2), (0,))])
+        self.assertEqual(len(spanned(group, 7).rules), 140)
+        group = Group(FREE, [((1, 3, 3, 3), (2, 1))])
+        self.assertLess(len(spanned(group, 8).rules), 141)
+        refused(self, TooMany(140), spanned, group, 9)
         # Each two of 12 letters make one: 144 rules with those of the back, 12 of them told twice.
         back = tuple(range(12))
         pairs = [((k, m), ()) for k in range(12) for m in range(12) if k != m][:40]
