@@ -403,6 +403,18 @@ class MetTables(unittest.TestCase):
                     self.assertEqual(goal(core, word) == 0, inside)
                 self.assertEqual(core == one, kept)
 
+    def test_all_small_tables(self):
+        group = Group((1, 0, 2), [])
+        told = Tables.all_tables(self, group, 4)
+        normal_ones = 0
+        for one in told:
+            words = table_gens(group, one)
+            kept = all(state_behind(one, state, word) == state for word in words for state in range(len(one.ways)))
+            self.assertEqual(is_normal_table(group, one), kept)
+            self.assertEqual(table_core(group, one) == one, kept)
+            normal_ones += kept
+        self.assertTrue(10 < normal_ones < len(told))
+
     def test_the_greatest_normal_one_within(self):
         group = self.groups[2][0]
         told = Tables.all_tables(self, group, 3) + self.some_tables(group)
