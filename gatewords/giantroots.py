@@ -6,11 +6,11 @@ from gatewords.giants import alike_words, giant_told, put_parts, want_giant, wan
 
 
 def front_of(blocks, word):
-    """How many letters a free word begins with that its end undoes, and whether it undoes itself."""
+    """With how many letters a free word begins that its end undoes."""
     size = blocks.size_of(word[0])
     many = alike_words(blocks, word[0], word[1])
     # What undoes itself has one letter that does so in its middle.
-    return (size // 2, True) if many == size else (many, False)
+    return size // 2 if many == size else many
 
 
 def giant_core(giant):
@@ -18,7 +18,7 @@ def giant_core(giant):
     want_giant(giant)
     blocks, word = free_giant(giant)
     size = blocks.size_of(word[0])
-    many, _ = front_of(blocks, word)
+    many = front_of(blocks, word)
     front = put_parts(blocks, [(word, 0, many)])
     return (giant_told(blocks, front), giant_told(blocks, put_parts(blocks, [(word, many, size - many)])))
 
@@ -59,9 +59,8 @@ def giant_root(giant):
     size = blocks.size_of(word[0])
     if size == 0:
         return None
-    front, undoes_itself = front_of(blocks, word)
-    if undoes_itself:
-        return (giant_told(blocks, word), 1)
+    front = front_of(blocks, word)
+    # A word that undoes itself has a core of one letter, so that it is its own root.
     length = length_repeated(blocks, word[0], front, size - front)
     root = put_parts(blocks, [(word, 0, front + length), (word, size - front, size)])
     return (giant_told(blocks, root), (size - 2 * front) // length)

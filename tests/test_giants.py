@@ -82,6 +82,12 @@ def letters(giant):
     return found
 
 
+def told_out(back, word):
+    """The giant of letters that are told one by one."""
+    names = letter_names(back)
+    return giant_of_text(back, "".join(names[letter] for letter in word) or "1")
+
+
 def alike_ahead(one, other):
     many = 0
     while many < min(len(one), len(other)) and one[many] == other[many]:
@@ -120,6 +126,7 @@ class Giants(unittest.TestCase):
             giant = giant_of_text(back=back, text=text)
             self.assertEqual((giant.back, giant.size), (back, len(word)))
             self.assertEqual(letters(giant), word)
+            self.assertEqual(giant, told_out(back, word))
             if len(word) <= 200:
                 self.assertEqual(giant_of_word(back=back, word=word), giant)
                 self.assertEqual(giant_word(giant=giant), word)
@@ -161,12 +168,33 @@ class Giants(unittest.TestCase):
             part = giant_part(giant=giant, start=start, end=end)
             self.assertEqual(letters(part), word[start:end])
             self.assertEqual(letters(giant_undone(giant=part)), undone(back, word[start:end]))
+            self.assertEqual(part, told_out(back, word[start:end]))
+            self.assertEqual(giant_undone(part), told_out(back, undone(back, word[start:end])))
             self.assertEqual(letters(giant_joined(one=part, other=giant)), word[start:end] + word)
+            self.assertEqual(giant_joined(part, giant), told_out(back, word[start:end] + word))
+            self.assertEqual(giant_undone(giant_joined(part, giant)),
+                             told_out(back, undone(back, word[start:end] + word)))
             self.assertEqual(giant_joined(giant_part(giant, 0, start), giant_part(giant, start, len(word))), giant)
             many = chance.choice([0, 1, 2, 3, 8, 9, 10, 11, 13, 40])
-            self.assertEqual(letters(giant_power(giant=part, many=many)), word[start:end] * many)
+            power = giant_power(giant=part, many=many)
+            self.assertEqual(power.size, (end - start) * many)
+            if power.size < 4000:
+                self.assertEqual(letters(power), word[start:end] * many)
+                self.assertEqual(power, told_out(back, word[start:end] * many))
+                self.assertEqual(giant_undone(power), told_out(back, undone(back, word[start:end]) * many))
             for place in {0, len(word) // 3, len(word) - 1} if word else ():
                 self.assertEqual(giant_letter(giant=giant, place=place), word[place])
+
+    def test_powers_of_short_words(self):
+        chance = random.Random(12)
+        for _ in range(400):
+            back = chance.choice(BACKS)
+            word = tuple(chance.randrange(len(back)) for _ in range(chance.randint(1, 12)))
+            word = word * chance.choice([1, 1, 2]) + word[:chance.randint(0, 3)]
+            many = chance.choice([9, 10, 11, 12, 13, 17, 30])
+            power = giant_power(giant_of_word(back, word), many)
+            self.assertEqual(power, told_out(back, word * many))
+            self.assertEqual(giant_undone(power), told_out(back, undone(back, word * many)))
 
     def test_greatest_ones(self):
         back = (1, 0, 2)
@@ -239,6 +267,7 @@ class Giants(unittest.TestCase):
             for function in (giant_joined, giant_apart, giants_alike, giants_commute):
                 refused(self, BadGiant(None), function, thing, thing)
                 refused(self, BadGiant(None), function, giant, thing)
+                refused(self, BadGiant(None), function, thing, giant)
         for function in (giant_joined, giant_apart, giants_alike, giants_commute):
             refused(self, BadGiant("back"), function, giant, other)
         for word in [None, [0], (2,), (True,), (0,) * 201, "a"]:
@@ -275,7 +304,7 @@ class FewLevels(unittest.TestCase):
                 module.MOST_LEVEL = most
             try:
                 for case in ("test_of_texts_and_words", "test_one_giant_told_in_many_ways", "test_equality_and_apart",
-                             "test_parts_powers_and_joins"):
+                             "test_parts_powers_and_joins", "test_powers_of_short_words"):
                     getattr(Giants(case), case)()
             finally:
                 for module in (blocks, blockjoins, blockpowers):
@@ -294,6 +323,7 @@ class Free(unittest.TestCase):
             giant = giant_of_text(back, text)
             found = giant_free(giant=giant)
             self.assertEqual(letters(found), freed(back, word))
+            self.assertEqual(found, told_out(back, freed(back, word)))
             self.assertEqual(giant_undone(found), giant_free(giant_undone(giant)))
             if len(word) <= 200:
                 self.assertEqual(giant_word(found), free(back, word))
