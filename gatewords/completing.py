@@ -128,7 +128,8 @@ class Completion:
 
     def put(self, left, right, proof):
         """Put a rule to those that stand."""
-        for other in [other for other in self.standing if left in other]:
+        longer = [other for other in self.standing if left in other]
+        for other in longer:
             self.drop(other)
         number = len(self.found)
         self.found.append((left, right, proof))
