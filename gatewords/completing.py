@@ -5,19 +5,35 @@ order is that of the words told. Each rule is alike with steps by equations of
 the group and by rules that were found ahead of it, which is kept as its proof:
 a list of (place, number, forward), number being that of a rule, or below 0 that
 of an equation.
+
+In whatever sequence words are looked at, the same rules stand in the end. Only
+how many stand on the way to them depends on it, which may be very many more.
 """
 
 from heapq import heappop, heappush
 
 from gatewords.errors import TooMany
-from gatewords.lefttrees import put_left, told_of_end
+from gatewords.groups import Group
+from gatewords.lefttrees import Sides, put_left, told_of_end
 from gatewords.letters import rank
 from gatewords.lettertexts import SMALL
+from gatewords.sureness import are_surely_more
 from gatewords.systems import MOST_REPLACED, System
 
-# Many rules may go again when shorter ones are found. Where so many stand at
-# once it is taken that they will not come to be 140.
-MOST_STANDING = 4000
+# How many rules stand when it is asked for the first time whether it is sure
+# that too many will; it is asked again when there are so many times as many.
+FIRST_ASKED = 1000
+ASKED_AGAIN = 4
+# How many moves are made then, to see it, for each rule that stands.
+MOVES_FOR_EACH = 4000
+
+# What waits, in the sequence in which it is looked at: equations of the group or
+# told by rules that went; words in which a letter and what undoes it overlap with
+# a left side, by which letters go from one side of an equation to the other until
+# it tells all it can; other words.
+EQUATION = 0
+UNDOING = 1
+OVERLAP = 2
 
 
 def told_as_string(word):
@@ -35,38 +51,51 @@ def back_along(proof):
     return [(place, number, not forward) for place, number, forward in proof[::-1]]
 
 
-def equations_of(group, most):
-    """The equations of a group whose sides have at most most letters."""
-    pairs = list(group.rules) + [((letter, undoing), ()) for letter, undoing in enumerate(group.back)]
-    return [pair for pair in pairs if max(len(pair[0]), len(pair[1])) <= most]
+def fitting(group, most):
+    """The group of the rules whose sides have at most most letters."""
+    return Group(group.back, [rule for rule in group.rules if max(len(rule[0]), len(rule[1])) <= most])
+
+
+def is_undoing(left, right):
+    """Whether a rule takes away two letters, or one."""
+    return right == "" and len(left) <= 2
 
 
 class Completion:
     """The rules that follow from a group's equations of at most most letters, as far as was gone on."""
 
     def __init__(self, group, most):
-        self.back = group.back
-        self.most = most
-        self.equations = equations_of(group, most)
+        self.group = fitting(group, most)
+        pairs = [((letter, undoing), ()) for letter, undoing in enumerate(group.back)]
+        self.equations = list(self.group.rules) + pairs
         # Of each rule ever found the left side, the right side and the proof.
         self.found = []
         # The left sides that stand, each with the number of its rule.
         self.standing = {}
         self.tree = {}
-        # The numbers of the rules whose left sides begin with a string.
-        self.fronts = {}
-        self.ends = {}
-        # What is to be looked at: length, when it came, and then either two rules
-        # and how many letters they share, or an equation with its proof.
+        self.sides = Sides()
+        # The sides of those rules that take letters away.
+        self.undoing = Sides()
+        # What is to be looked at: its kind, letters, when it came, and then either an
+        # equation with its proof, or two rules and how many letters they share.
         self.waiting = []
         self.many = 0
+        # Words of at most this many letters may be looked at, and those of at most
+        # this many in which left sides overlap were put to wait.
+        self.span = 0
+        self.reached = 0
+        self.asked_at = FIRST_ASKED
         for place, (one, other) in enumerate(self.equations):
             self.wait_for(told_as_string(one), told_as_string(other), [(0, -1 - place, True)])
 
+    def put_waiting(self, kind, letters, told):
+        """Let what is told wait, which leads to two words of so many letters together."""
+        heappush(self.waiting, (kind, letters, self.many, told))
+        self.many += 1
+
     def wait_for(self, one, other, proof):
         """Let an equation wait, told by both strings and the proof of it."""
-        heappush(self.waiting, (max(len(one), len(other)), self.many, one, other, proof))
-        self.many += 1
+        self.put_waiting(EQUATION, len(one) + len(other), (one, other, proof))
 
     def replaced(self, string, right_of):
         """The reduced string, and the proof that leads to it.
@@ -105,26 +134,35 @@ class Completion:
         # It stays in the tree, where the shorter one always ends first.
         number = self.standing[left]
         del self.standing[left]
-        for size in range(1, len(left)):
-            del self.fronts[left[:size]][number]
-            del self.ends[left[-size:]][number]
+        for sides in self.sides_of(number):
+            sides.drop_side(left, number)
         self.wait_for(left, self.found[number][1], [(0, number, True)])
 
-    def wait_for_overlaps(self, left, number):
-        """Let the words wait in which a new left side overlaps with one that stands."""
-        for size in range(1, len(left)):
-            for other in self.fronts.get(left[-size:], {}):
-                self.wait_for_overlap(number, other, size)
-            for other in self.ends.get(left[:size], {}):
-                if other != number:
-                    self.wait_for_overlap(other, number, size)
+    def sides_of(self, number):
+        """All in which the left side of a rule stands."""
+        left, right, _ = self.found[number]
+        return [self.sides, self.undoing] if is_undoing(left, right) else [self.sides]
 
-    def wait_for_overlap(self, one, other, size):
-        """Let the word wait in which two left sides share so many letters, unless it is too long."""
-        length = len(self.found[one][0]) + len(self.found[other][0]) - size
-        if length <= self.most:
-            heappush(self.waiting, (length, self.many, one, other, size))
-            self.many += 1
+    def wait_for_overlaps(self, kind, sides, number, most):
+        """Let the words of at most most letters wait in which a rule overlaps with some sides."""
+        left = self.found[number][0]
+        for other, size in sides.behind(left, 0, most):
+            self.wait_for_overlap(kind, number, other, size)
+        for other, size in sides.ahead(left, 0, most):
+            if other != number:
+                self.wait_for_overlap(kind, other, number, size)
+
+    def wait_for_overlap(self, kind, one, other, size):
+        """Let the word wait in which two left sides share so many letters."""
+        letters = sum([len(side) for number in (one, other) for side in self.found[number][:2]])
+        self.put_waiting(kind, letters - 2 * size, (one, other, size))
+
+    def wait_for_length(self, length):
+        """Let the words of so many letters wait in which left sides overlap."""
+        self.reached = length
+        for left, number in self.standing.items():
+            for other, size in self.sides.behind(left, length, length):
+                self.wait_for_overlap(OVERLAP, number, other, size)
 
     def put(self, left, right, proof):
         """Put a rule to those that stand."""
@@ -135,10 +173,11 @@ class Completion:
         self.found.append((left, right, proof))
         self.standing[left] = number
         put_left(self.tree, left, number)
-        for size in range(1, len(left)):
-            self.fronts.setdefault(left[:size], {})[number] = True
-            self.ends.setdefault(left[-size:], {})[number] = True
-        self.wait_for_overlaps(left, number)
+        for sides in self.sides_of(number):
+            sides.put_side(left, number)
+        undoing = self.sides if is_undoing(left, right) else self.undoing
+        self.wait_for_overlaps(UNDOING, undoing, number, self.span)
+        self.wait_for_overlaps(OVERLAP, self.sides, number, self.reached)
 
     def compare(self, one, other, proof):
         """Look at an equation; it makes a rule unless both sides are reduced to the same."""
@@ -152,26 +191,44 @@ class Completion:
         else:
             self.put(left, right, whole)
 
-    def look(self, told):
-        """Look at what waited."""
-        _, _, one, other, rest = told
-        if isinstance(one, str):
-            self.compare(one, other, rest)
+    def stands(self, number):
+        """Whether a rule stands."""
+        return self.standing.get(self.found[number][0]) == number
+
+    def look(self, one, other, size):
+        """Look at the word in which two rules share so many letters, unless one of them went."""
+        if not self.stands(one) or not self.stands(other):
             return
         left, right, _ = self.found[one]
         second, second_right, _ = self.found[other]
-        if self.standing.get(left) != one or self.standing.get(second) != other:
-            return
-        front = left[:len(left) - rest]
-        proof = [(0, one, False), (len(front), other, True)]
-        self.compare(right + second[rest:], front + second_right, proof)
+        front = left[:len(left) - size]
+        self.compare(right + second[size:], front + second_right, [(0, one, False), (len(front), other, True)])
+
+    def look_at_all(self):
+        """Look at all that waits, and at what comes to it."""
+        while self.waiting:
+            kind, _, _, told = heappop(self.waiting)
+            if kind == EQUATION:
+                self.compare(*told)
+            else:
+                self.look(*told)
+            if len(self.standing) >= self.asked_at:
+                self.ask()
 
     def go_on(self, span):
-        """Go on until all words of at most span letters tell nothing new."""
-        while self.waiting and self.waiting[0][0] <= span:
-            self.look(heappop(self.waiting))
-            if len(self.standing) > MOST_STANDING:
-                raise TooMany(MOST_REPLACED)
+        """Go on until all words of at most span letters tell nothing new; TooMany once that is sure."""
+        self.span = span
+        self.look_at_all()
+        for length in range(self.reached + 1, span + 1):
+            self.wait_for_length(length)
+            self.look_at_all()
+
+    def ask(self):
+        """TooMany if it is sure that more rules will stand than a System has."""
+        many = len(self.standing)
+        self.asked_at = many * ASKED_AGAIN
+        if are_surely_more(self.group, list(self.standing), MOST_REPLACED, many * MOVES_FOR_EACH):
+            raise TooMany(MOST_REPLACED)
 
     def system(self):
         """The System of what was found; TooMany if it has too many rules."""
@@ -181,7 +238,7 @@ class Completion:
         for left in sorted(self.standing, key=rank):
             right, _ = self.reduced(self.found[self.standing[left]][1])
             rules.append((told_as_word(left), told_as_word(right)))
-        return System(self.back, rules)
+        return System(self.group.back, rules)
 
 
 def completed(group, span):

@@ -1,7 +1,8 @@
-"""Trees of the left sides of rules, read from their last letters on.
+"""Left sides of rules, found in words and by the letters with which they begin and end.
 
-A node tells for letters the node ahead of them, and under ENDED what is told of
-the left side that begins there. No left side is ().
+A tree of them is read from their last letters on: a node tells for letters the
+node ahead of them, and under ENDED what is told of the left side that begins
+there. No left side is ().
 """
 
 ENDED = -1
@@ -55,3 +56,45 @@ def has_left(tree, word):
         if told_of_end(tree, read) is not None:
             return True
     return False
+
+
+class Sides:
+    """Left sides with numbers, found by the letters with which they begin or end."""
+
+    def __init__(self):
+        # By such letters, and then by the length of the left side.
+        self.fronts = {}
+        self.ends = {}
+
+    def put_side(self, left, number):
+        """Put a left side with its number."""
+        for size in range(1, len(left)):
+            self.fronts.setdefault(left[:size], {}).setdefault(len(left), {})[number] = True
+            self.ends.setdefault(left[-size:], {}).setdefault(len(left), {})[number] = True
+
+    def drop_side(self, left, number):
+        """Let a left side go."""
+        for size in range(1, len(left)):
+            del self.fronts[left[:size]][len(left)][number]
+            del self.ends[left[-size:]][len(left)][number]
+
+    def behind(self, left, least, most):
+        """What overlaps with the end of a left side in words of least to most letters.
+
+        A list of pairs of the number and how many letters are shared.
+        """
+        found = []
+        for size in range(1, len(left)):
+            for length, numbers in self.fronts.get(left[-size:], {}).items():
+                if least <= len(left) + length - size <= most:
+                    found.extend([(number, size) for number in numbers])
+        return found
+
+    def ahead(self, left, least, most):
+        """What overlaps with the beginning of a left side, likewise."""
+        found = []
+        for size in range(1, len(left)):
+            for length, numbers in self.ends.get(left[:size], {}).items():
+                if least <= len(left) + length - size <= most:
+                    found.extend([(number, size) for number in numbers])
+        return found
