@@ -27,13 +27,14 @@ ASKED_AGAIN = 4
 # How many moves are made then, to see it, for each rule that stands.
 MOVES_FOR_EACH = 4000
 
-# What waits, in the sequence in which it is looked at: equations of the group or
-# told by rules that went; words in which a letter and what undoes it overlap with
-# a left side, by which letters go from one side of an equation to the other until
-# it tells all it can; other words.
-EQUATION = 0
-UNDOING = 1
-OVERLAP = 2
+# What waits is of two kinds. The first one is looked at ahead of the other one:
+# equations of the group or told by rules that went, and words in which a letter
+# and what undoes it overlap with a left side, by which letters go from one side of
+# an equation to the other until it tells all that it can by itself. It goes by the
+# letters and the steps needed, since roads grow long where what took many steps is
+# used ahead of what needs few; the other one goes by letters alone.
+BY_ITSELF = 0
+BY_OVERLAP = 1
 
 
 def told_as_string(word):
@@ -68,15 +69,17 @@ class Completion:
         self.group = fitting(group, most)
         pairs = [((letter, undoing), ()) for letter, undoing in enumerate(group.back)]
         self.equations = list(self.group.rules) + pairs
-        # Of each rule ever found the left side, the right side and the proof.
+        # Of each rule ever found the left side, the right side and the proof, and how
+        # many steps its road may have.
         self.found = []
+        self.costs = []
         # The left sides that stand, each with the number of its rule.
         self.standing = {}
         self.tree = {}
         self.sides = Sides()
         # The sides of those rules that take letters away.
         self.undoing = Sides()
-        # What is to be looked at: its kind, letters, when it came, and then either an
+        # What is to be looked at: its kind and size, when it came, and then either an
         # equation with its proof, or two rules and how many letters they share.
         self.waiting = []
         self.many = 0
@@ -88,14 +91,18 @@ class Completion:
         for place, (one, other) in enumerate(self.equations):
             self.wait_for(told_as_string(one), told_as_string(other), [(0, -1 - place, True)])
 
-    def put_waiting(self, kind, letters, told):
-        """Let what is told wait, which leads to two words of so many letters together."""
-        heappush(self.waiting, (kind, letters, self.many, told))
+    def put_waiting(self, kind, size, told):
+        """Let what is told wait, which is of this kind and size."""
+        heappush(self.waiting, (kind, size, self.many, told))
         self.many += 1
+
+    def cost_of(self, proof):
+        """How many steps the road of a proof may have."""
+        return sum([self.costs[number] if number >= 0 else 1 for _, number, _ in proof])
 
     def wait_for(self, one, other, proof):
         """Let an equation wait, told by both strings and the proof of it."""
-        self.put_waiting(EQUATION, len(one) + len(other), (one, other, proof))
+        self.put_waiting(BY_ITSELF, len(one) + len(other) + self.cost_of(proof), (one, other, proof))
 
     def replaced(self, string, right_of):
         """The reduced string, and the proof that leads to it.
@@ -154,15 +161,16 @@ class Completion:
 
     def wait_for_overlap(self, kind, one, other, size):
         """Let the word wait in which two left sides share so many letters."""
-        letters = sum([len(side) for number in (one, other) for side in self.found[number][:2]])
-        self.put_waiting(kind, letters - 2 * size, (one, other, size))
+        letters = sum([len(side) for number in (one, other) for side in self.found[number][:2]]) - 2 * size
+        steps = self.costs[one] + self.costs[other] if kind == BY_ITSELF else 0
+        self.put_waiting(kind, letters + steps, (one, other, size))
 
     def wait_for_length(self, length):
         """Let the words of so many letters wait in which left sides overlap."""
         self.reached = length
         for left, number in self.standing.items():
             for other, size in self.sides.behind(left, length, length):
-                self.wait_for_overlap(OVERLAP, number, other, size)
+                self.wait_for_overlap(BY_OVERLAP, number, other, size)
 
     def put(self, left, right, proof):
         """Put a rule to those that stand."""
@@ -171,13 +179,14 @@ class Completion:
             self.drop(other)
         number = len(self.found)
         self.found.append((left, right, proof))
+        self.costs.append(self.cost_of(proof))
         self.standing[left] = number
         put_left(self.tree, left, number)
         for sides in self.sides_of(number):
             sides.put_side(left, number)
         undoing = self.sides if is_undoing(left, right) else self.undoing
-        self.wait_for_overlaps(UNDOING, undoing, number, self.span)
-        self.wait_for_overlaps(OVERLAP, self.sides, number, self.reached)
+        self.wait_for_overlaps(BY_ITSELF, undoing, number, self.span)
+        self.wait_for_overlaps(BY_OVERLAP, self.sides, number, self.reached)
 
     def compare(self, one, other, proof):
         """Look at an equation; it makes a rule unless both sides are reduced to the same."""
@@ -207,8 +216,8 @@ class Completion:
     def look_at_all(self):
         """Look at all that waits, and at what comes to it."""
         while self.waiting:
-            kind, _, _, told = heappop(self.waiting)
-            if kind == EQUATION:
+            _, _, _, told = heappop(self.waiting)
+            if isinstance(told[0], str):
                 self.compare(*told)
             else:
                 self.look(*told)
