@@ -1,12 +1,12 @@
-"""Words that are surely the least of those alike with them, whatever the span, as marks of words tell.
+"""Words that are surely the least of those alike with them, at whatever span.
 
 A table tells how letters move a few points so that words that are alike move
-each of them to one point. Where words lead from a point to itself is a subgroup;
-how often they go each way on their way there, by the table, tells its commutative
-part. Words are marked by the point to which they move the first point, and by
-the ways on which they go, as far as alike words must have the same. So words
-that are alike have the same marks, by as many tables as one likes, and the least
-word of its marks is the least of all that are alike with it.
+each point to the same one. The words that lead the first point to itself are a
+subgroup; how often a word goes by each way of the table tells where it is but
+for what commutes there. The *mark* of a word is the point to which it moves the
+first one, with numbers for these ways. Words that are alike have the same marks,
+by however many tables. So if no word ahead of a word has the same marks, it is
+the least of those alike with it.
 """
 
 from gatewords.abelian import diagonal, less
@@ -289,8 +289,10 @@ def are_surely_more(group, lefts, most, moves):
     ball = Ball(group, moves // 2)
     reach = ball.reach(2 * most, moves // 2)
     near = [left for left in lefts if len(left) <= reach + 1]
+    if len(near) <= most:
+        return False
     many = 0
-    for left in sorted(near, key=rank) if len(near) > most else []:
+    for left in sorted(near, key=rank):
         if ball.is_surely_least(left[1:]) and ball.is_surely_least(left[:-1]):
             many += 1
             if many > most:
