@@ -24,8 +24,9 @@ from gatewords.systems import MOST_REPLACED, System
 # that too many will; it is asked again when there are so many times as many.
 FIRST_ASKED = 1000
 ASKED_AGAIN = 4
-# How many moves are made then, to see it, for each rule that stands.
+# How many moves are made then, to see it, for each rule that stands, and at most.
 MOVES_FOR_EACH = 4000
+MOST_MOVES = 16000000
 
 # What waits is of two kinds. The first one is looked at ahead of the other one:
 # equations of the group or told by rules that went, and words in which a letter
@@ -236,7 +237,8 @@ class Completion:
         """TooMany if it is sure that more rules will stand than a System has."""
         many = len(self.standing)
         self.asked_at = many * ASKED_AGAIN
-        if are_surely_more(self.group, list(self.standing), MOST_REPLACED, many * MOVES_FOR_EACH):
+        moves = min(many * MOVES_FOR_EACH, MOST_MOVES)
+        if are_surely_more(self.group, list(self.standing), MOST_REPLACED, moves):
             raise TooMany(MOST_REPLACED)
 
     def system(self):
