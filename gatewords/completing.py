@@ -217,11 +217,11 @@ class Completion:
     def look_at_all(self):
         """Look at all that waits, and at what comes to it."""
         while self.waiting:
-            _, _, _, told = heappop(self.waiting)
-            if isinstance(told[0], str):
-                self.compare(*told)
+            _, _, _, (one, other, rest) = heappop(self.waiting)
+            if isinstance(one, str):
+                self.compare(one, other, rest)
             else:
-                self.look(*told)
+                self.look(one, other, rest)
             if len(self.standing) >= self.asked_at:
                 self.ask()
 

@@ -58,6 +58,20 @@ def has_left(tree, word):
     return False
 
 
+def overlapping(numbers, parts, length, least, most):
+    """What overlaps with a left side of this length by one of its parts, in words of least to most letters.
+
+    The parts have 1, 2, 3, .. letters. A list of pairs of the number and how many
+    letters are shared.
+    """
+    found = []
+    for size, part in enumerate(parts, start=1):
+        for other, told in numbers.get(part, {}).items():
+            if least <= length + other - size <= most:
+                found.extend([(number, size) for number in told])
+    return found
+
+
 class Sides:
     """Left sides with numbers, found by the letters with which they begin or end."""
 
@@ -79,22 +93,11 @@ class Sides:
             del self.ends[left[-size:]][len(left)][number]
 
     def behind(self, left, least, most):
-        """What overlaps with the end of a left side in words of least to most letters.
-
-        A list of pairs of the number and how many letters are shared.
-        """
-        found = []
-        for size in range(1, len(left)):
-            for length, numbers in self.fronts.get(left[-size:], {}).items():
-                if least <= len(left) + length - size <= most:
-                    found.extend([(number, size) for number in numbers])
-        return found
+        """The numbers of what overlaps with the end of a left side, with how many letters are shared."""
+        parts = [left[-size:] for size in range(1, len(left))]
+        return overlapping(self.fronts, parts, len(left), least, most)
 
     def ahead(self, left, least, most):
-        """What overlaps with the beginning of a left side, likewise."""
-        found = []
-        for size in range(1, len(left)):
-            for length, numbers in self.ends.get(left[:size], {}).items():
-                if least <= len(left) + length - size <= most:
-                    found.extend([(number, size) for number in numbers])
-        return found
+        """The numbers of what overlaps with the beginning of a left side, likewise."""
+        parts = [left[:size] for size in range(1, len(left))]
+        return overlapping(self.ends, parts, len(left), least, most)

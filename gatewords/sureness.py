@@ -172,7 +172,7 @@ class Marks:
         if self.ways[number][letter] is None:
             point, told = self.met[number]
             more = self.sums[point][letter]
-            whole = tuple([(a + b) % divisor for a, b, divisor in zip(told, more, self.divisors)])
+            whole = tuple([int(a + b) % divisor for a, b, divisor in zip(told, more, self.divisors)])
             self.ways[number][letter] = self.number_of((self.table[point][letter], whole))
         return self.ways[number][letter]
 
@@ -194,7 +194,7 @@ def divided(form, turns):
     whole = [0] * len(turns)
     for place, number in enumerate(form):
         if number == 0:
-            whole = [(FACTOR * a + row[place]) % PRIME for a, row in zip(whole, turns)]
+            whole = [int(FACTOR * a + row[place]) % PRIME for a, row in zip(whole, turns)]
     columns = [[row[place] for row in turns] for place in kept]
     return [form[place] for place in kept] + [PRIME], columns + [whole]
 
